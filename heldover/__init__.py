@@ -1,0 +1,1 @@
+"""Heldover: long tasks whose programs are compiled, crash, recover, and are replaced while they wait."""
