@@ -63,7 +63,8 @@ def reached(name, leads):
     found = {name: True}
     waiting = [name]
     while waiting:
-        for other in leads.get(waiting.pop(), ()):
+        last = waiting.pop()
+        for other in leads.get(last, ()):
             if other not in found:
                 found[other] = True
                 waiting.append(other)

@@ -38,6 +38,9 @@ class Walk:
         slots = list(args) + [None] * (code[2] - len(args))
         return self.go(code, 0, slots, prefix, called, False)
 
+    def at_point(self, code, block, slots, prefix):
+        """Called at each block with a place, before its steps."""
+
     def operand(self, operand, slots):
         return operand[1] if operand[0] == "value" else slots[operand[1]]
 
@@ -87,6 +90,8 @@ class Walk:
             if self.blocks_done > 20000:
                 raise StuckHere("too many blocks")
             place, steps, end = code[3][block]
+            if place is not None:
+                self.at_point(code, block, slots, prefix)
             for slot, operation in steps:
                 slots[slot] = self.operation(operation, slots)
             word = end[0]
