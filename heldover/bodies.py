@@ -2,14 +2,13 @@
 
 from heldover.errors import InvalidVersion
 from heldover.syntax import (
-    LAST_WORDS, bodies_of, expressions_of, has_bodies, has_statement_form, label_of, read_in, set_in, statements,
-    variables_set,
+    DEEPEST_BODY, LAST_WORDS, bodies_of, expressions_of, has_bodies, has_statement_form, label_of, read_in, set_in,
+    statements, variables_set,
 )
 from heldover.values import BASIC_KINDS
 
 MOST_IN_BODY = 12
 MOST_IN_FUNCTION = 40
-DEEPEST_BODY = 5
 
 
 class Surroundings:

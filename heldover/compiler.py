@@ -1,12 +1,10 @@
 """The compiler: each position of the text gets a point, and no call is inlined."""
 
+from heldover.codes import BEHIND_BOTH, BODY_ENDS
 from heldover.effects import errors_of_body
 from heldover.errors import UnknownName
 from heldover.making import Maker, Site
 from heldover.syntax import set_in
-
-BEHIND = 2
-FIRST_DONE = 3
 
 
 def compile_body(maker, body, site):
@@ -189,13 +187,13 @@ def compile_both(maker, statement, site):
     errors = sorted(set([error for body in bodies for error in errors_of_body(body, effects)]))
     taken = [tuple([maker.slot_of[name] for name in set_in(body)]) for body in bodies]
     block = maker.add_point(site.place(label), site, {})
-    behind = maker.add_point(site.place(label, BEHIND), site, {})
+    behind = maker.add_point(site.place(label, BEHIND_BOTH), site, {})
     firsts = [maker.add_block(None), maker.add_block(None)]
     maker.jump_to(block)
     maker.begin(block)
     maker.finish(("both", firsts[0], firsts[1], taken[0], taken[1], behind, site.handlers(errors)))
     for number, body in enumerate(bodies):
-        done = maker.add_point(site.place(label, FIRST_DONE + number), site, {})
+        done = maker.add_point(site.place(label, BODY_ENDS[number]), site, {})
         compile_into(maker, firsts[number], body, site.in_both(label, number), done)
         maker.begin(done)
         maker.finish(("done",))

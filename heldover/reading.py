@@ -2,10 +2,9 @@
 
 from heldover.errors import InvalidText
 from heldover.lines import Line
-from heldover.syntax import BODY_ITEMS, NAME_ITEMS, SHAPES
+from heldover.syntax import BODY_ITEMS, DEEPEST_BODY, NAME_ITEMS, SHAPES
 
 INDENT = "  "
-DEEPEST_BODY = 5
 
 
 def read_item(line, what):

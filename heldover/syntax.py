@@ -25,11 +25,12 @@ SHAPES = {
 }
 BODY_ITEMS = ("body", "cases", "handlers")
 NAME_ITEMS = ("variable", "function", "door", "key", "error")
-OUTER_WORDS = ("ask", "send", "receive", "sleep", "start")
 LAST_WORDS = ("break", "return", "raise", "become")
 MOST_ROUNDS = 9
 MOST_CASES = 6
 MOST_HANDLERS = 3
+# How many bodies lie within each other, the function's own one counted.
+DEEPEST_BODY = 5
 
 
 def items_of(statement):

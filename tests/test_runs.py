@@ -542,3 +542,16 @@ class FramesTest(RunTest):
         frames = run_of(version).frames(at("b", "p"))
         frames[0][2]["x"] = 5
         self.assertEqual(run_of(version).frames(at("b", "p"))[0][2]["x"], 0)
+
+    def test_calls_in_bodies_of_boths_many_within_each_other(self):
+        functions = [function("fa", ("sleep", "s", "n"))]
+        for letter, before in zip("bcdefghijklmnopqrstuvwx", "abcdefghijklmnopqrstuvw"):
+            body = ("call", "c", "x", "f" + before, (("add", "n", 1),))
+            for label in "klmo":
+                body = ("both", label, (body,), ())
+            functions.append(function("f" + letter, body))
+        run = run_of(version_of(*functions))
+        around = [("o", 0), ("m", 0), ("l", 0), ("k", 0), ("c", 0)]
+        self.assertEqual(run.waits(), {(0, *around * 23, ("s", 0)): ("sleep", 23)})
+        self.assertEqual(len(run.frames(list(run.waits())[0])), 24)
+        self.assertEqual(run.tree()[1][0], (("o", 0),))
