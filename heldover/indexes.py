@@ -39,7 +39,8 @@ def parse_index(text):
     """The index with this text."""
     if not isinstance(text, str):
         raise InvalidIndex(text)
-    epoch, *parts = text.split(" ")
+    words = text.split(" ")
+    epoch, *parts = words
     # No text is read as a number before it is short enough and made of digits.
     if not parts or not is_decimal(epoch, EPOCH_DIGITS) or not all([is_part_text(part) for part in parts]):
         raise InvalidIndex(text)

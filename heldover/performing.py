@@ -132,7 +132,8 @@ def perform_if(run, branch, statement, parts):
 
 def perform_match(run, branch, statement, parts):
     """The variables of the case become the fields of the value."""
-    tag, *fields = run.value_of(statement[1], branch)
+    value = run.value_of(statement[1], branch)
+    tag, *fields = value
     for case, names, body in statement[2]:
         if case == tag:
             branch.variables.update({name: field for name, field in zip(names, fields)})

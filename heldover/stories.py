@@ -92,8 +92,8 @@ def strictly_equal(one, other):
         if not isinstance(other, tuple) or len(one) != len(other):
             return False
         return all([strictly_equal(part, against) for part, against in zip(one, other)])
-    if isinstance(one, bool) or isinstance(other, bool):
-        return isinstance(one, bool) and isinstance(other, bool) and one == other
+    if isinstance(one, bool):
+        return isinstance(other, bool) and one == other
     if is_integer(one):
         return is_integer(other) and one == other
     if isinstance(one, str):

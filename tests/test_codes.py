@@ -60,12 +60,15 @@ class StepsTest(FormTest):
             self.good(self.step((word, VALUE, ("slot", 1))))
             self.bad(self.step((word, VALUE)), self.step((word, VALUE, VALUE, VALUE)), self.step([word, VALUE, VALUE]),
                      self.step((word, 1, VALUE)), self.step((word, VALUE, ("slot", 3))), self.step((word, VALUE, ("add", VALUE, VALUE))))
+        self.bad(self.step(("xor", VALUE, VALUE)), self.step(("call", VALUE, VALUE)), self.step(("slot", VALUE, VALUE)))
         self.bad(self.step(("self", 1)), self.step(("not",)), self.step(("not", VALUE, VALUE)), self.step(("neg", VALUE)))
         self.bad(self.step(("var", (), "x")), self.step(("round", (), "k")), self.step(("answer",)), self.step(()), self.step(("slot",)))
 
     def test_tags_and_parts(self):
         for count in range(4):
             self.good(self.step(("tag", "Red", *[VALUE] * count)))
+        self.bad(self.step(("tag", "Red", 1)), self.step(("tag", "Red", VALUE, ("slot", 3))), self.step(("part", 0, 1)),
+                 self.step(("part", 0, ("slot", 3))), self.step(("is", "Red", ("slot", 3))), self.step(("not", 1)))
         self.bad(self.step(("tag", "Red", *[VALUE] * 4)), self.step(("tag",)), self.step(("tag", "red")), self.step(("tag", VALUE)))
         self.good(self.step(("is", "Red", VALUE)))
         self.bad(self.step(("is", "Red")), self.step(("is", "red", VALUE)), self.step(("is", VALUE, "Red")),
@@ -129,7 +132,8 @@ class BlocksTest(FormTest):
             ("call", 3, "f", (), 2, ()), ("call", True, "f", (), 2, ()), ("call", 0, "F", (), 2, ()), ("call", 0, "f", (VALUE,) * 6, 2, ()),
             ("call", 0, "f", [], 2, ()), ("call", 0, "f", (), 3, ()), ("call", 0, "f", (), 2, [("dear", 2)]),
             ("call", 0, "f", (), 2, (("dear", 3),)), ("call", 0, "f", (), 2, (("dear", 2), ("dear", 2))),
-            ("call", 0, "f", (), 2, (("Dear", 2),)), ("call", 0, "f", (), 2, (["dear", 2],)), ("call", 0, "f", (), 2, ("dear",)),
+            ("call", 0, "f", (), 2, (("Dear", 2),)), ("call", 0, "f", (), 2, (["dear", 2],)), ("call", 0, "f", (), 2, (("dear", 2, 2),)),
+            ("call", 0, "f", (), 2, (("dear",),)), ("call", 0, "f", (), 2, ("dear",)),
             ("call", 0, "f", (), 2, None), ("ask", ("slot", 0), "d", (), 2), ("ask", 0, 1, (), 2), ("ask", 0, "d", VALUE, 2),
             ("ask", 0, "d", (1,), 2), ("ask", 0, "d", (), None), ("send", "ann", "k", VALUE, 2), ("send", VALUE, "K", VALUE, 2),
             ("send", VALUE, "k", 1, 2), ("send", VALUE, "k", VALUE, 9), ("receive", -1, "k", 2), ("receive", 0, None, 2),

@@ -94,6 +94,10 @@ class DeclarationsTest(RefusalTest):
                 self.refused([self.shop(functions=(("run", value, (), "int", ()),))], "form", "run")
                 self.refused([self.shop(functions=(("run", (), value, "int", ()),))], "form", "run")
                 self.refused([self.shop(functions=(("run", (), (), "int", value),))], "form", "run")
+        self.refused([self.shop(kinds=(("Color", (("Red", ()),)),))], "form", "shop")
+        self.refused([self.shop(doors=(("Price", (), "int"),))], "form", "shop")
+        self.refused([self.shop(keys=(("self", "int"),))], "form", "shop")
+        self.refused([self.shop(functions=(("Run", (), (), "int", ()),))], "form", "shop")
         self.refused([self.shop(keys=(("paid", "int", 1),))], "form", "paid")
         self.refused([self.shop(keys=(["paid", "int"],))], "form", "shop")
         self.refused([self.shop(doors=(("price", "int"),))], "form", "price")
@@ -149,6 +153,11 @@ class DeclarationsTest(RefusalTest):
         Version([base, middle, ("last", ("middle", "base"), (), (), (("hue", "color"), ("twin", "pair")), ())])
         self.refused([base, ("last", (), (), (), (("hue", "color"),), ())], "kind", "hue")
         self.refused([base, middle, ("last", ("middle",), (), (), (("hue", "color"),), ())], "kind", "hue")
+        self.refused([base, ("last", (), (("pair", (("Two", ("color",)),)),), (), (), ())], "kind", "pair")
+        self.refused([base, ("last", (), (), (("pick", ("color",), "int"),), (), ())], "kind", "pick")
+        self.refused([base, ("last", (), (), (("pick", (), "color"),), (), ())], "kind", "pick")
+        self.refused([base, ("last", (), (), (), (), (("run", (("c", "color"),), (), "int", ()),))], "kind", "run")
+        self.refused([base, ("last", (), (), (), (), (("run", (), (), "color", ()),))], "kind", "run")
 
     def test_twelve_and_thirteen_kinds_within_each_other(self):
         def chain(letters, before):
@@ -202,6 +211,7 @@ class StatementsTest(RefusalTest):
             ("break", 1), ("break",) * 2, ("return",), ("return", "Red"), ("return", 10 ** 250), ("raise", "Dear"), ("raise",),
             ("try", "", (), ()), ("try", "", (), (("dear", ()),) * 2), ("try", "", (), (("Dear", ()),)),
             ("try", "", (), tuple(("e" + one, ()) for one in "abcd")), ("try", "", (), (("dear", []),)),
+            ("try", "", (), (("dear", (), ()),)), ("try", "", (), (("dear",),)), ("try", "", (), (("dear", ()), 5)),
             ("try", "", (), (["dear", ()],)), ("try", "", (), [("dear", ())]), ("try", "", [], (("dear", ()),)),
             ("call", "", "x", "f", [1]), ("call", "", "x", "F", ()), ("call", "", 1, "f", ()), ("call", "x", "f", ()),
             ("call", "", "x", "f", (None,)), ("ask", "", "x", "price", 1), ("ask", "", "x", 1, ()), ("ask", "", "x", "price"),
@@ -380,6 +390,10 @@ class StatementsTest(RefusalTest):
         for cases in ((red,), (mix,), (mix, red), (red, red), (red, mix, mix), (red, ("Mix", ("x",), ())), (red, ("Mix", (), ())),
                       (red, ("Mix", ("t", "x"), ())), (red, ("Mix", ("x", "t", "y"), ())), (("Red", ("x",), ()), mix)):
             self.in_body("kind", ("match", "c", cases))
+        for count in (1, 6):
+            kind = ("many", tuple(("A" + letter, ()) for letter in LETTERS[:count]))
+            match = ("match", "v", tuple((tag, (), ()) for tag, _ in kind[1]))
+            Version([("shop", (), (kind,), (), (), (("run", (("v", "many"),), (), "int", (match,)),))])
         twin = ("twin", (("Two", ("int", "int")),))
         run = ("run", (("v", "twin"),), (("x", "int"), ("y", "int")), "int", (("match", "v", (("Two", ("x", "x"), ()),)),))
         self.refused([("shop", (), (twin,), (), (), (run,))], "kind", "run")

@@ -176,6 +176,8 @@ class ConstructionTest(RunTest):
         self.assertNotEqual(*[Run(VERSION, "ann", 0, START, story) for story in stories])
         open_ask = {A: (("ask", "price", (3,)), None, None)}
         self.assertEqual(Run(VERSION, "ann", 0, START, open_ask), Run(VERSION, "ann", 0, START, dict(open_ask)))
+        self.assertNotEqual(Run(VERSION, "ann", 0, START, open_ask), Run(VERSION, "ann", 0, START, FIRST))
+        self.assertNotEqual(Run(VERSION, "ann", 0, START, FIRST), Run(VERSION, "ann", 0, START, open_ask))
 
     def test_story_is_a_copy(self):
         story = dict(FIRST)

@@ -73,7 +73,7 @@ class AnswerTest(unittest.TestCase):
         for value in (None, (), [], tagged(13), MESSAGE):
             self.assertIs(is_answer(("ask", "price", ()), value), False)
         for value in (None, 5, True, [("ann", INDEX), 5], (["ann", INDEX], 5), (("ann", INDEX),), (("ann", INDEX), None), (5, 5),
-                      (("%", INDEX), 5), (("ann", (0,)), 5), (("ann", INDEX), tagged(13)), (("ann", INDEX), 5, 5),
+                      (("%", INDEX), 5), (("ann", (0,)), 5), (("ann", INDEX), tagged(13)), (("ann", INDEX), 5, 5), (("ann", INDEX, 1), 5), (("ann",), 5),
                       (("ann", (True, ("a", 0))), 5)):
             self.assertIs(is_answer(("receive", "paid"), value), False)
         for value in (None, 1, True, ("Red",), "%"):
