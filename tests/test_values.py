@@ -156,6 +156,9 @@ class KindsTest(unittest.TestCase):
         self.assertEqual(kinds.zero("kl"), value)
         self.assertIs(kinds.is_value("kl", value), True)
         self.assert_refused(chain(13), "limit", "km")
+        bare = ("ka", (("Ta", ()),))
+        self.assertEqual(len(Kinds([bare, *chain(12)[1:]])), 12)
+        self.assert_refused([bare, *chain(13)[1:]], "limit", "km")
         self.assertEqual(len(Kinds(chain(12) + [("wide", (("Wide", ("kk",)),))])), 13)
 
     def test_equality_length_and_in(self):
