@@ -37,7 +37,7 @@ def is_name(value):
     """Whether it is a NAME."""
     if not isinstance(value, str) or not 1 <= len(value) <= LONGEST_WORD:
         return False
-    return consists_of(value, SMALL_LETTERS) and value not in RESERVED
+    return value.isascii() and value.isalpha() and value.islower() and value not in RESERVED
 
 
 def is_tag(value):

@@ -14,7 +14,7 @@ class Version:
     def __init__(self, modules):
         declarations = declared_by(modules)
         self._modules = tuple(declarations.labelled_modules)
-        self._kinds = tuple(declarations.kind_items)
+        self._kinds = Kinds(declarations.kind_items)
         self._functions = declarations.whole.function_table
         self._doors = declarations.whole.door_table
         self._keys = declarations.whole.key_table
@@ -33,7 +33,7 @@ class Version:
 
     def kinds(self):
         """The Kinds of all declared kinds."""
-        return Kinds(self._kinds)
+        return self._kinds
 
     def names(self):
         """The list of the names of its functions."""

@@ -71,6 +71,12 @@ def own_attributes():
     return {name for tree in TREES.values() for one in classes(tree) for name in assigned_attributes(one)}
 
 
+def class_values():
+    """The names that are given values in the bodies of classes."""
+    rows = [row for tree in TREES.values() for one in classes(tree) for row in one.body if isinstance(row, ast.Assign)]
+    return {target.id for row in rows for target in row.targets}
+
+
 def bound_names(tree):
     """All names that are given a meaning, with their nodes."""
     for node in ast.walk(tree):
@@ -215,14 +221,14 @@ class LanguageTest(unittest.TestCase):
         self.assertFalse(own_methods() & own_attributes())
 
     def test_l18_attributes_that_are_read_are_assigned(self):
-        known = own_attributes() | own_methods() | BUILTIN_METHODS
+        known = own_attributes() | own_methods() | class_values() | BUILTIN_METHODS
         for path, tree in self.each():
             for node in ast.walk(tree):
                 if isinstance(node, ast.Attribute):
                     self.check(node.attr in known, path, node, f"L18 {node.attr}")
 
     def test_l6_statements(self):
-        barred = (ast.Global, ast.AsyncFunctionDef, ast.Match, ast.With, ast.Try, ast.Nonlocal, ast.Lambda)
+        barred = (ast.Global, ast.AsyncFunctionDef, ast.Match, ast.With, ast.Nonlocal, ast.Lambda)
         for path, tree in self.each():
             for node in ast.walk(tree):
                 self.check(not isinstance(node, barred), path, node, "L6")
@@ -262,6 +268,11 @@ class LanguageTest(unittest.TestCase):
                 if isinstance(node, ast.Raise):
                     call = isinstance(node.exc, ast.Call) and isinstance(node.exc.func, ast.Name)
                     self.check(call and node.exc.func.id in own, path, node, "L19")
+                if isinstance(node, ast.Try):
+                    self.check(not node.finalbody and not node.orelse, path, node, "L19")
+                    for handler in node.handlers:
+                        caught = handler.type.elts if isinstance(handler.type, ast.Tuple) else [handler.type]
+                        self.check(handler.name is None and {one.id for one in caught} <= own, path, node, "L19")
 
     def test_l20_is(self):
         for path, tree in self.each():
@@ -287,8 +298,10 @@ class LanguageTest(unittest.TestCase):
                     self.check(self.is_named_class(node, above), path, node, f"L22 {node.id}")
 
     def is_named_class(self, node, above):
-        """In isinstance, alone or in a tuple, or as a base class."""
+        """In isinstance, alone or in a tuple, as a base class, or NotImplemented as a result."""
         parent = above[node]
+        if node.id == "NotImplemented":
+            return isinstance(parent, ast.Return)
         if isinstance(parent, ast.ClassDef):
             return True
         if isinstance(parent, ast.Tuple):
@@ -319,7 +332,7 @@ class LanguageTest(unittest.TestCase):
             for function in functions(tree):
                 if any(isinstance(node, (ast.Yield, ast.YieldFrom)) for node in ast.walk(function)):
                     makers[function.name] = path
-        self.assertEqual(set(makers), {"statements", "entries"})
+        self.assertEqual(set(makers), {"statements", "entries", "stages"})
         everything = [function.name for tree in TREES.values() for function in functions(tree)]
         self.assertTrue(all(everything.count(name) == 1 for name in makers), "L23")
         for path, tree in self.each():
@@ -329,7 +342,7 @@ class LanguageTest(unittest.TestCase):
                     call = above[node]
                     self.check(isinstance(call, ast.Call) and call.func is node, path, node, "L23")
                     self.check(self.is_iterated(call, above[call]), path, node, "L23")
-                    self.check(all(isinstance(one, ast.Name) for one in call.args), path, node, "L23")
+                    self.check(all(isinstance(one, (ast.Name, ast.Attribute)) for one in call.args), path, node, "L23")
 
     def test_l24_sets(self):
         for path, tree in self.each():
@@ -356,8 +369,9 @@ class LanguageTest(unittest.TestCase):
                     if node.attr not in methods:
                         self.check(not above[node].keywords, path, node, "L25")
                 else:
-                    properties = {"state", "end_moment"}
-                    self.check(node.attr not in methods - properties, path, node, f"L25 {node.attr}")
+                    properties = {"state", "end_moment", "current", "now"}
+                    is_key = isinstance(above[node], ast.keyword) and above[node].arg == "key"
+                    self.check(is_key or node.attr not in methods - properties, path, node, f"L25 {node.attr}")
 
     def test_l27_strings_and_numbers(self):
         for path, tree in self.each():

@@ -1,0 +1,127 @@
+"""A code with its map while a pass changes it."""
+
+from heldover.codes import END_SHAPES, MOST_BLOCKS, MOST_SLOTS, MOST_STEPS, is_code
+from heldover.frames import has_map_form
+from heldover.operations import head_of, inner_of, is_mere_operand
+from heldover.ways import targets
+
+
+def with_blocks(end, table):
+    """An end with other blocks; the table has the new one for those that change."""
+    found = [end[0]]
+    for what, item in zip(END_SHAPES[end[0]], end[1:]):
+        if what == "block":
+            item = table.get(item, item)
+        if what == "errors":
+            item = tuple([(name, table.get(block, block)) for name, block in item])
+        found.append(item)
+    return tuple(found)
+
+
+def operand_with(operand, table):
+    """An operand, or what the table has for its slot."""
+    return table.get(operand[1], operand) if operand[0] == "slot" else operand
+
+
+def with_operands(end, table):
+    """An end with other operands; the table has those for the slots that change."""
+    found = [end[0]]
+    for what, item in zip(END_SHAPES[end[0]], end[1:]):
+        if what == "operand":
+            item = operand_with(item, table)
+        if what == "operands":
+            item = tuple([operand_with(operand, table) for operand in item])
+        found.append(item)
+    return tuple(found)
+
+
+def with_slots(end, shift):
+    """An end with other slots for its answer and those that are taken over: so many further on."""
+    found = [end[0]]
+    for what, item in zip(END_SHAPES[end[0]], end[1:]):
+        if what == "answer" and item is not None:
+            item = item + shift
+        if what == "slots":
+            item = tuple([slot + shift for slot in item])
+        found.append(item)
+    return tuple(found)
+
+
+def operation_with(operation, table):
+    """An operation with other operands; the table has those for the slots that change."""
+    if is_mere_operand(operation):
+        return operand_with(operation, table)
+    return (*head_of(operation), *[operand_with(operand, table) for operand in inner_of(operation)])
+
+
+class Draft:
+    """Blocks in lists, and rows of the map; a row is a list of meanings and a dict of recipes."""
+
+    def __init__(self, code, code_map):
+        self.code_given = code
+        self.map_given = code_map
+        self.owner, self.parameters, self.slot_count, blocks = code
+        self.places = [place for place, _, _ in blocks]
+        self.step_lists = [list(steps) for _, steps, _ in blocks]
+        self.ends = [end for _, _, end in blocks]
+        self.rows = {block: (list(meanings), dict(recipes)) for block, (meanings, recipes) in code_map.items()}
+
+    def blocks(self):
+        """The numbers of the blocks."""
+        return list(range(len(self.ends)))
+
+    def add_block(self, place, steps, end):
+        """Adds a block and returns its number."""
+        self.places.append(place)
+        self.step_lists.append(list(steps))
+        self.ends.append(end)
+        return len(self.ends) - 1
+
+    def add_copy(self, block, place):
+        """Adds a copy of a block with another place; returns its number."""
+        found = self.add_block(place, self.step_lists[block], self.ends[block])
+        if block in self.rows and place is not None:
+            meanings, recipes = self.rows[block]
+            self.rows[found] = (list(meanings), dict(recipes))
+        return found
+
+    def add_slot(self):
+        """Adds a slot without a meaning and returns it."""
+        for meanings, _ in self.rows.values():
+            meanings.append(None)
+        self.slot_count += 1
+        return self.slot_count - 1
+
+    def redirect(self, block, table):
+        """Lets a block lead to other blocks, by a dict."""
+        self.ends[block] = with_blocks(self.ends[block], table)
+
+    def code_now(self):
+        """The code."""
+        blocks = [(place, tuple(steps), end) for place, steps, end in zip(self.places, self.step_lists, self.ends)]
+        return (self.owner, self.parameters, self.slot_count, tuple(blocks))
+
+    def made(self):
+        """The code and the map; those that were given, if a limit is exceeded."""
+        if self.slot_count > MOST_SLOTS or len(self.ends) > MOST_BLOCKS:
+            return self.as_given()
+        if any([len(steps) > MOST_STEPS for steps in self.step_lists]):
+            return self.as_given()
+        code = self.code_now()
+        code_map = {block: (tuple(meanings), dict(recipes)) for block, (meanings, recipes) in self.rows.items()}
+        return (code, code_map) if is_code(code) and has_map_form(code, code_map) else self.as_given()
+
+    def as_given(self):
+        """The code and the map that were given."""
+        copied = {block: (meanings, dict(recipes)) for block, (meanings, recipes) in self.map_given.items()}
+        return (self.code_given, copied)
+
+    def reached(self):
+        """A dict that has the blocks as keys to which ways lead from block 0."""
+        found, waiting = {0: True}, [0]
+        while waiting:
+            for block in targets(self.ends[waiting.pop()]):
+                if block not in found:
+                    found[block] = True
+                    waiting.append(block)
+        return found
