@@ -7,9 +7,16 @@ from heldover.inlining import inline
 from heldover.passes import apply_pass, is_pass
 
 
+def copied_map(code_map):
+    """A copy of a map."""
+    return {block: (row[0], dict(row[1])) for block, row in code_map.items()}
+
+
 def beginning_of(version, codes, maps):
-    """The codes and the maps with which a pipeline begins."""
-    return compiled_all(version) if codes is None or maps is None else (codes, maps)
+    """The codes and the maps with which a pipeline begins, as dicts of its own."""
+    if codes is None or maps is None:
+        return compiled_all(version)
+    return ({name: codes[name] for name in codes}, {name: copied_map(maps[name]) for name in maps})
 
 
 def came_in(one, version, codes, maps, function):
@@ -44,20 +51,16 @@ class Pipeline:
         if function not in version:
             raise UnknownName(function)
         codes, maps = beginning_of(version, codes, maps)
-        code, code_map = codes[function], maps[function]
         for one in self.passes:
-            here = {name: codes[name] for name in codes if name != function}
-            there = {name: maps[name] for name in maps if name != function}
-            here[function], there[function] = code, code_map
-            code, code_map = apply_pass(one, version, here, there, function)
-            yield one, code, {block: (row[0], dict(row[1])) for block, row in code_map.items()}
+            codes[function], maps[function] = apply_pass(one, version, codes, maps, function)
+            yield one, codes[function], copied_map(maps[function])
 
     def applied(self, version, function, *, codes=None, maps=None):
         """The code and the map after all passes."""
         if function not in version:
             raise UnknownName(function)
         codes, maps = beginning_of(version, codes, maps)
-        found = (codes[function], {block: (row[0], dict(row[1])) for block, row in maps[function].items()})
+        found = (codes[function], maps[function])
         for _, code, code_map in self.stages(version, function, codes=codes, maps=maps):
             found = (code, code_map)
         return found
