@@ -41,7 +41,7 @@ class AcceptTest(unittest.TestCase):
         version = version_with(*tests[:5], ("sleep", "s", 1))
         self.assertIsNone(judge(version, "run", *compiled(version, "run")))
         square = ("set", "x", ("mul", ("add", "x", "n"), ("sub", "x", "y")))
-        version = version_with(*[square] * 12, ("sleep", "s", "x"))
+        version = version_with(*[square] * 11, ("sleep", "s", "x"))
         found = judge(version, "run", *compiled(version, "run"))
         self.assertTrue(found is None or found[0] == "many")
 
