@@ -17,6 +17,18 @@ FUNCTIONS = {
     "runs": {"is_start": "version value"},
     "codes": {"is_code": "value", "is_codes": "value", "points": "code", "waiting": "code"},
     "compiler": {"compiled": "version function", "compiled_all": "version"},
+    "frames": {
+        "is_frame": "codes value", "is_map": "code value", "term_value": "term values *task=''", "frame_of": "codes maps run",
+        "is_right_frame": "codes maps run frame", "values_in": "code code_map point slots",
+    },
+    "terms": {"is_term": "value", "unknowns": "term"},
+    "positions": {"position_of": "version function place", "variables_at": "version function place"},
+    "judge": {"judge": "version function code code_map"},
+    "ways": {"reads": "end", "gives": "end"},
+    "liveness": {"live_slots": "code code_map", "needed_variables": "version function place"},
+    "passes": {"is_pass": "value", "apply_pass": "one version codes maps function"},
+    "pipelines": {"optimized": "version pipeline"},
+    "tasks": {"child_name": "name index"},
 }
 CLASSES = {
     "values.Kinds": {
@@ -32,7 +44,32 @@ CLASSES = {
         "__init__": "version name epoch start story", "story": "", "end": "", "waits": "", "differences": "", "come_to": "",
         "missed": "", "passed": "", "way": "index", "moment": "index", "frames": "index", "tree": "", "__eq__": None,
     },
+    "execution.Execution": {
+        "__init__": "version codes name epoch start story", "end": "", "waits": "", "differences": "", "come_to": "", "passed": "",
+        "frame": "",
+    },
+    "terms.Terms": {
+        "__init__": "version kinds conditions=()", "kind": "term", "is_defined": "term", "normal": "term", "same_terms": "one other",
+        "exclude": "one other", "given": "condition",
+    },
+    "pipelines.Pipeline": {
+        "__init__": "passes", "stages": "version function *codes=None *maps=None", "applied": "version function *codes=None *maps=None",
+        "inlined": "version function", "__eq__": None, "__len__": None, "__contains__": None, "__add__": None, "__repr__": None,
+    },
+    "tasks.Task": {"__init__": "name version epoch start story end=None", "story": "", "end": "", "__eq__": None, "__repr__": None},
+    "machine.Machine": {
+        "__init__": "version more", "add_version": "version", "versions": "", "wait": "minutes=1", "launch": "name function args",
+        "names": "*living=True", "task": "name", "run": "name", "asks": "", "ready": "", "messages": "name key", "do": "name spot",
+        "answer": "name index value", "rest": "most=100", "move": "names number", "perform": "operation version=None",
+        "population": "", "unread": "", "records": "", "clone": "", "__eq__": None, "__len__": None, "__contains__": None,
+    },
 }
+CLASS_METHODS = {
+    "versions.Version.read": "text", "execution.Execution.from_frame": "version codes name epoch frame story",
+    "pipelines.Pipeline.standard": "labels", "machine.Machine.of_records": "versions records",
+    "machine.Machine.of_state": "versions current now tasks unread",
+}
+PROPERTIES = {"runs.Run": ("state", "end_moment"), "machine.Machine": ("current", "now")}
 
 
 def described(function, skipped=0):
@@ -66,11 +103,22 @@ class InterfaceTest(unittest.TestCase):
                     self.assertEqual(described(vars(one)[method], 1), parameters, f"{path}.{method}")
 
     def test_class_methods_and_properties(self):
-        runs, versions = importlib.import_module("heldover.runs"), importlib.import_module("heldover.versions")
-        self.assertIsInstance(vars(versions.Version)["read"], classmethod)
-        self.assertEqual(described(versions.Version.read), "text")
-        for name in ("state", "end_moment"):
-            self.assertIsInstance(vars(runs.Run)[name], property)
+        for path, parameters in CLASS_METHODS.items():
+            file, name, method = path.split(".")
+            one = getattr(importlib.import_module(f"heldover.{file}"), name)
+            self.assertIsInstance(vars(one)[method], classmethod)
+            self.assertEqual(described(getattr(one, method)), parameters)
+        for path, names in PROPERTIES.items():
+            file, name = path.split(".")
+            one = getattr(importlib.import_module(f"heldover.{file}"), name)
+            self.assertTrue(all(isinstance(vars(one)[each], property) for each in names))
+
+    def test_values_of_classes(self):
+        pipelines, machine = importlib.import_module("heldover.pipelines"), importlib.import_module("heldover.machine")
+        self.assertIsInstance(vars(pipelines.Pipeline)["STANDARD"], tuple)
+        self.assertEqual(vars(machine.Machine)["MAX_VERSIONS"], 5)
+        self.assertIsInstance(importlib.import_module("heldover.passes").PASSES, tuple)
+        self.assertTrue(inspect.isgeneratorfunction(pipelines.Pipeline.stages))
 
     def test_generators(self):
         for file, name in (("syntax", "statements"), ("stories", "entries")):
