@@ -21,6 +21,18 @@ class CodePath:
         self.fresh = False
         self.ending = None
 
+    def go_to(self, block):
+        """Stands at another block."""
+        self.block = block
+
+    def begin_here(self):
+        """Does the block at which it stands, though it is a point."""
+        self.fresh = True
+
+    def fail(self, error):
+        """Ends with an error."""
+        self.ending = ("raise", error)
+
     def with_condition(self, block, number, truth):
         """A path that is the same until here, at another block, with a condition."""
         found = CodePath(block, list(self.slots), self.facts.with_truth(number, truth))

@@ -83,7 +83,7 @@ class Doing:
         """The value of an operand, None for nothing."""
         return operand[1] if operand[0] == "value" else level.slots[operand[1]]
 
-    def read(self, level, block, operand):
+    def read_operand(self, level, block, operand):
         """The value of an operand that the end of a block reads."""
         value = self.operand(level, operand)
         if value is None:
@@ -92,7 +92,7 @@ class Doing:
 
     def read_all(self, level, block, operands):
         """The values of operands that the end of a block reads."""
-        return tuple([self.read(level, block, operand) for operand in operands])
+        return tuple([self.read_operand(level, block, operand) for operand in operands])
 
     def operation(self, level, operation):
         """The value of an operation, None if it has none."""
@@ -110,7 +110,7 @@ class Doing:
         parts = []
         for label, number in level.code[3][block][0]:
             if isinstance(number, tuple):
-                number = self.read(level, block, number)
+                number = self.read_operand(level, block, number)
             if not is_below(number, GREATEST_NUMBER + 1):
                 raise Stuck(level.code[0], block)
             parts.append((label, number))
@@ -159,7 +159,7 @@ def do_plain_end(doing, level, block, end):
     if word == "jump":
         return ("next", end[1])
     if word == "branch":
-        truth = doing.read(level, block, end[1])
+        truth = doing.read_operand(level, block, end[1])
         if not isinstance(truth, bool):
             raise Stuck(level.code[0], block)
         return ("next", end[2] if truth else end[3])
@@ -169,7 +169,7 @@ def do_plain_end(doing, level, block, end):
     if is_wrong:
         raise Stuck(level.code[0], block)
     if word == "return":
-        return ("return", doing.read(level, block, end[1]))
+        return ("return", doing.read_operand(level, block, end[1]))
     if word == "become":
         return ("become", end[1], doing.read_all(level, block, end[2]))
     return end
@@ -251,11 +251,11 @@ def question_at(doing, level, block, end):
     if word in ("ask", "start"):
         question = (word, end[2], doing.read_all(level, block, end[3]))
     elif word == "send":
-        question = (word, doing.read(level, block, end[1]), end[2], doing.read(level, block, end[3]))
+        question = (word, doing.read_operand(level, block, end[1]), end[2], doing.read_operand(level, block, end[3]))
     elif word == "receive":
         question = (word, end[2])
     else:
-        minutes = doing.read(level, block, end[1])
+        minutes = doing.read_operand(level, block, end[1])
         question = (word, max(0, minutes) if is_integer(minutes) else None)
     if not is_question(question):
         raise Stuck(level.code[0], block)

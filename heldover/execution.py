@@ -1,8 +1,9 @@
 """Executions: what codes do with a story."""
 
 from heldover.codes import is_codes
-from heldover.errors import InvalidCodes, InvalidEpoch, InvalidFrame, InvalidStart, InvalidStory, InvalidTask, NoFrame
-from heldover.errors import Stuck
+from heldover.errors import (
+    InvalidCodes, InvalidEpoch, InvalidFrame, InvalidStart, InvalidStory, InvalidTask, NoFrame, Stuck,
+)
 from heldover.executing import Doing, Level, do_function, go_on
 from heldover.frames import is_frame
 from heldover.indexes import is_epoch

@@ -20,13 +20,13 @@ class Step:
     that body, None if there is none around it.
     """
 
-    def __init__(self, word, parts, statement, site):
+    def __init__(self, word, parts, statement, site, targets):
         self.word = word
         self.parts = parts
         self.statement = statement
         self.caught = site.caught
         self.outside = site.outside
-        self.targets = ()
+        self.targets = targets
 
 
 class Around:
@@ -56,16 +56,19 @@ class Graph:
         self.effect_table = {function: version.effects(function) for function in version.names()}
         finish = self.add("finish", None, None, Around())
         beginning = self.add("point", (), None, Around())
-        self.steps[beginning].targets = (self.add_body(self.body, finish, Around()),)
+        self.lead(beginning, (self.add_body(self.body, finish, Around()),))
 
     def add(self, word, parts, statement, site, targets=()):
         """Adds a step and returns its number."""
-        step = Step(word, parts, statement, site)
-        step.targets = targets
-        self.steps.append(step)
+        self.steps.append(Step(word, parts, statement, site, targets))
         if parts is not None:
             self.by_parts[parts] = len(self.steps) - 1
         return len(self.steps) - 1
+
+    def lead(self, number, targets):
+        """Lets a step lead to others."""
+        step = self.steps[number]
+        step.targets = targets
 
     def add_body(self, body, behind, site):
         """Adds the steps of a body, behind which another step follows; returns the number of the first one."""
@@ -124,7 +127,7 @@ def add_loop(graph, statement, behind, site):
     inside.left = behind
     head = graph.add("head", inside.parts, statement, site)
     count = graph.add("count", None, statement, site, (head,))
-    graph.steps[head].targets = (graph.add_body(body, count, inside), behind)
+    graph.lead(head, (graph.add_body(body, count, inside), behind))
     return graph.add("zero", None, statement, site, (head,))
 
 
@@ -135,7 +138,7 @@ def add_try(graph, statement, behind, site):
     for number, (error, handler) in enumerate(handlers, start=1):
         inside = site.inside(label, number)
         point = graph.add("point", inside.parts, None, site)
-        graph.steps[point].targets = (graph.add_body(handler, behind, inside),)
+        graph.lead(point, (graph.add_body(handler, behind, inside),))
         caught.append((error, point))
     inside = site.inside(label, 0)
     inside.caught = (*caught, *site.caught)
@@ -157,7 +160,7 @@ def add_both(graph, statement, behind, site):
     for number, body in enumerate(bodies):
         done = graph.add("done", (*site.parts, (label, BODY_ENDS[number])), (both, number), site)
         firsts.append(graph.add_body(body, done, Around((*site.parts, (label, number)), (), done)))
-    graph.steps[both].targets = (*firsts, point)
+    graph.lead(both, (*firsts, point))
     return both
 
 

@@ -62,7 +62,7 @@ def drop_unreached(draft):
     draft.rows = {table[block]: row for block, row in draft.rows.items() if block in table}
 
 
-def join(draft):
+def join_blocks(draft):
     """Joins blocks as long as something changes."""
     changed = True
     while changed:

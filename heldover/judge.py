@@ -7,7 +7,7 @@ from heldover.errors import InvalidCode, InvalidMap, UnknownName
 from heldover.frames import is_map
 from heldover.judging import Case
 from heldover.sources import MOST_PATHS, SourceWalk
-from heldover.termforms import ANSWER, VARIABLE
+from heldover.termforms import ANSWER
 from heldover.transfers import Meeting, demands_at
 from heldover.ways import operands_read
 
@@ -63,8 +63,20 @@ class Way:
     def to(self, step, block):
         """The way to a step of the text and to a block."""
         self.source.go_to(step)
-        self.code.block = block
+        self.code.go_to(block)
         return self
+
+    def begun_here(self):
+        """The way that does what is at the point itself."""
+        self.source.begin_here()
+        self.code.begin_here()
+        return self
+
+    def give(self, name, slot, number):
+        """Gives a variable and a slot, if it is not None, the answer."""
+        self.source.give(name, number)
+        if slot is not None:
+            self.code.slots[slot] = number
 
 
 def ways_from(case, point, beginning):
@@ -73,9 +85,7 @@ def ways_from(case, point, beginning):
     end, step = case.end_of(point), point.step()
     word = end[0]
     if word not in WAITING_WORDS:
-        way = Way(beginning, contexts)
-        way.source.fresh = way.code.fresh = True
-        return [way]
+        return [Way(beginning, contexts).begun_here()]
     if word == "mark":
         return [Way(beginning, contexts).to(step.targets[number], end[1 + number]) for number in range(2)]
     if word == "both":
@@ -87,9 +97,7 @@ def ways_from(case, point, beginning):
     way = Way(beginning, contexts).to(step.targets[0], end[4] if word == "call" else end[-1])
     if word in ANSWERED_WORDS:
         number = case.nodes.unknown(ANSWER, answer_kind(case, step.statement))
-        way.source.table[VARIABLE, point.layers[-1].path, step.statement[2]] = number
-        if end[1] is not None:
-            way.code.slots[end[1]] = number
+        way.give(step.statement[2], end[1], number)
     return [way, *(error_ways(case, point, beginning, contexts) if word == "call" else ())]
 
 
@@ -101,9 +109,9 @@ def error_ways(case, point, beginning, contexts):
         way = Way(beginning, contexts)
         SourceWalk(case.texts, case.nodes, case.stops).fail(way.source, error)
         if error in blocks:
-            way.code.block = blocks[error]
+            way.code.go_to(blocks[error])
         else:
-            way.code.ending = ("raise", error)
+            way.code.fail(error)
         found.append(way)
     return found
 

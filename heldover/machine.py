@@ -159,7 +159,7 @@ class Machine:
         self._records.append(("waited", self._clock))
         return self._clock
 
-    def launch(self, name, function, *args):
+    def launch(self, name, function, *operands):
         """Starts a task from outside; returns the Task."""
         if not is_name(name):
             raise InvalidName(name)
@@ -168,10 +168,10 @@ class Machine:
         version = self._versions[self._current]
         if function not in version:
             raise UnknownName(function)
-        start = (function, args, self._clock)
+        start = (function, operands, self._clock)
         if not is_start(version, start):
             raise InvalidArguments(function)
-        self._records.append(("started", name, self._current, function, args, self._clock))
+        self._records.append(("started", name, self._current, function, operands, self._clock))
         self._begin(name, self._current, start)
         return self.task(name)
 
@@ -258,8 +258,8 @@ class Machine:
     def _become(self, task):
         """Lets a task become its new call; returns the new epoch."""
         run = task.run_now
-        _, function, args = run.end()
-        start = (function, args, run.end_moment)
+        _, function, operands = run.end()
+        start = (function, operands, run.end_moment)
         self._records.append(("became", task.name, *start))
         after = Run(run.version, task.name, run.epoch + 1, start, {})
         self._living[task.name] = Living(task.name, task.number, after)
@@ -329,8 +329,8 @@ class Machine:
         if word == "version":
             return self.add_version(version)
         if word == "launch":
-            name, function, args = items
-            return self.launch(name, function, *args)
+            name, function, operands = items
+            return self.launch(name, function, *operands)
         if word == "do":
             return self.do(items[0], items[1])
         if word == "answer":
@@ -373,18 +373,15 @@ class Machine:
         self._records = list(records)
 
     def _parts(self):
-        """What makes two machines equal, beside their versions and living tasks."""
+        """What makes two machines equal, beside their versions."""
         ended = tuple([(name, self._ended[name]) for name in sorted(self._ended)])
-        return (self._current, self._clock, ended, self._mail.lying)
-
-    def _tasks(self):
-        """The list of the living tasks, sorted by names."""
-        return [self._living[name].as_task() for name in sorted(self._living)]
+        living = tuple([self._living[name].whole for name in sorted(self._living)])
+        return (self._current, self._clock, living, ended, self._mail.lying)
 
     def __eq__(self, other):
         if not isinstance(other, Machine) or self._versions != other._versions:
             return False
-        return strictly_equal(self._parts(), other._parts()) and self._tasks() == other._tasks()
+        return strictly_equal(self._parts(), other._parts())
 
     def __len__(self):
         return len(self._living)

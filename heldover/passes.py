@@ -5,7 +5,7 @@ from heldover.errors import InvalidPass, UnknownName
 from heldover.folding import fold
 from heldover.hoisting import hoist
 from heldover.inlining import inline
-from heldover.joining import join
+from heldover.joining import join_blocks
 from heldover.propagation import propagate_copies, share_equals
 from heldover.trimming import trim
 from heldover.unrolling import unroll
@@ -37,7 +37,7 @@ def apply_to(draft, one, version, codes, maps):
     elif one == "hoist":
         return hoist(draft)
     elif one == "join":
-        join(draft)
+        join_blocks(draft)
     elif one[0] == "inline":
         inline(draft, one[1], version, codes, maps)
     else:

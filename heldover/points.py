@@ -88,8 +88,4 @@ class Point:
         """A path of the text and a path of the code that begin here."""
         facts, table = Facts(self.nodes), self.known_table()
         slots = [None if meaning is None else built(facts, meaning, table) for meaning in self.meanings]
-        source = SourcePath(tuple(self.layers), table, facts)
-        source.fresh = True
-        code = CodePath(self.block, slots, facts)
-        code.fresh = True
-        return source, code
+        return SourcePath(tuple(self.layers), table, facts), CodePath(self.block, slots, facts)

@@ -36,6 +36,10 @@ class SourcePath:
         found.count = self.count
         return found
 
+    def begin_here(self):
+        """Performs the step at which it stands, though the code has a point there."""
+        self.fresh = True
+
     def last(self):
         """The layer in which it stands."""
         return self.layers[-1]

@@ -14,6 +14,10 @@ class Living:
         self.name = name
         self.number = number
         self.run_now = run
+        # All that makes it up, as a tuple.
+        story = run.story()
+        told = tuple([(index, entry) for index, entry in entries(story)])
+        self.whole = (name, number, run.epoch, run.start, told)
 
     def with_entry(self, index, entry):
         """The task with one more entry in its story, or another one."""

@@ -16,6 +16,8 @@ class Task:
         self.start = start
         self._story = copied(story)
         self._end = end
+        told = tuple([(index, entry) for index, entry in entries(story)])
+        self._whole = (name, version, epoch, start, told, end)
 
     def story(self):
         """A copy of the story; an ended task has none."""
@@ -25,13 +27,8 @@ class Task:
         """The end, None for a living task."""
         return self._end
 
-    def _all(self):
-        """All that makes it up, as a tuple."""
-        told = tuple([(index, entry) for index, entry in entries(self._story)])
-        return (self.name, self.version, self.epoch, self.start, told, self._end)
-
     def __eq__(self, other):
-        return isinstance(other, Task) and strictly_equal(self._all(), other._all())
+        return isinstance(other, Task) and strictly_equal(self._whole, other._whole)
 
     def __repr__(self):
         return f"Task({self.name!r}, {self.epoch!r})"

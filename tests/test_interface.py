@@ -58,7 +58,7 @@ CLASSES = {
     },
     "tasks.Task": {"__init__": "name version epoch start story end=None", "story": "", "end": "", "__eq__": None, "__repr__": None},
     "machine.Machine": {
-        "__init__": "version more", "add_version": "version", "versions": "", "wait": "minutes=1", "launch": "name function args",
+        "__init__": "version more", "add_version": "version", "versions": "", "wait": "minutes=1", "launch": "name function operands",
         "names": "*living=True", "task": "name", "run": "name", "asks": "", "ready": "", "messages": "name key", "do": "name spot",
         "answer": "name index value", "rest": "most=100", "move": "names number", "perform": "operation version=None",
         "population": "", "unread": "", "records": "", "clone": "", "__eq__": None, "__len__": None, "__contains__": None,
