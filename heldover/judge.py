@@ -6,7 +6,7 @@ from heldover.codes import WAITING_WORDS, is_code
 from heldover.errors import InvalidCode, InvalidMap, UnknownName
 from heldover.frames import is_map
 from heldover.judging import Case
-from heldover.sources import MOST_PATHS, SourceWalk
+from heldover.sources import SourceWalk
 from heldover.termforms import ANSWER
 from heldover.transfers import Meeting, demands_at
 from heldover.ways import operands_read
@@ -162,16 +162,11 @@ def are_equal_ends(meeting, one, other):
     return all([meeting.are_equal_nodes(ours, theirs) for ours, theirs in zip(one[2], other[2])])
 
 
-def fault_of_way(case, way, count):
-    """The word of the fault of the paths of a way, or None; count has how many paths there were at the point."""
-    walk = SourceWalk(case.texts, case.nodes, case.stops)
-    sources = walk.paths(way.source)
+def fault_of_way(case, way):
+    """The word of the fault of the paths of a way, or None."""
+    sources = SourceWalk(case.texts, case.nodes, case.stops).paths(way.source)
     codes = code_paths(case.code, way.code)
     if sources is None or codes is None:
-        return "many"
-    count[0] += len(sources)
-    count[1] += len(codes)
-    if max(count) > MOST_PATHS:
         return "many"
     for source in sources:
         for code in codes:
@@ -187,9 +182,8 @@ def fault_at(case, point):
     fault = fault_of_question(case, point, beginning) if case.end_of(point)[0] in WAITING_WORDS else None
     if fault is not None:
         return fault
-    count = [0, 0]
     for way in ways_from(case, point, beginning):
-        word = fault_of_way(case, way, count)
+        word = fault_of_way(case, way)
         if word is not None:
             return (word, point.block)
     return None

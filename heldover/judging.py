@@ -6,7 +6,7 @@ from heldover.facts import Facts
 from heldover.graphs import Texts
 from heldover.nodes import FALSE, Nodes
 from heldover.points import Point
-from heldover.termforms import SLOT, VARIABLE, unknowns_in
+from heldover.termforms import SLOT, VARIABLE, names_task, unknowns_in
 from heldover.transfers import Both, demands_at, region_of
 from heldover.ways import inner_targets, targets
 
@@ -64,7 +64,10 @@ class Case:
         return self.fault_of_boths()
 
     def stands_right(self, point):
-        """Whether a point stands at a statement of its sort, and its row of the map tells of what is in force there."""
+        """Whether a point stands at a statement of its sort, and its row of the map tells of what is in force there.
+
+        A recipe that names the task is not accepted, as it is asked for values without the name of a task.
+        """
         word, step, end = point.step().word, point.step(), self.end_of(point)[0]
         waits = word in ("outer", "call", "both", "mark")
         if waits != (end in WAITING_WORDS) or waits and TEXT_WORDS.get(step.statement[0], step.statement[0]) != end:
@@ -74,7 +77,7 @@ class Case:
             if meaning is not None and built(facts, meaning, point.unknown_table) is None:
                 return False
         for variable, recipe in point.recipes.items():
-            if recipe is not None and variable not in point.unknown_table:
+            if recipe is not None and (variable not in point.unknown_table or names_task(recipe)):
                 return False
         return all([self.tells_round(point, number, unknown) for _, number, unknown in point.rounds()])
 

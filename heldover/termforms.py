@@ -107,6 +107,13 @@ def unknowns_in(term):
     return found
 
 
+def names_task(term):
+    """Whether the name of the task stands in a term."""
+    if term == ("self",):
+        return True
+    return has_operands(term) and any([names_task(operand) for operand in inner_of(term)])
+
+
 def put_in(term, table):
     """The term with other terms for the unknowns that are keys of the table."""
     if not has_operands(term):
