@@ -3,6 +3,7 @@
 from heldover.codes import END_SHAPES, MOST_BLOCKS, MOST_SLOTS, MOST_STEPS, is_code
 from heldover.frames import has_map_form
 from heldover.operations import head_of, inner_of, is_mere_operand
+from heldover.termforms import copied_table
 from heldover.ways import targets
 
 
@@ -64,7 +65,7 @@ class Draft:
         self.places = [place for place, _, _ in blocks]
         self.step_lists = [list(steps) for _, steps, _ in blocks]
         self.ends = [end for _, _, end in blocks]
-        self.rows = {block: (list(meanings), dict(recipes)) for block, (meanings, recipes) in code_map.items()}
+        self.rows = {block: (list(meanings), copied_table(recipes)) for block, (meanings, recipes) in code_map.items()}
 
     def blocks(self):
         """The numbers of the blocks."""
@@ -82,7 +83,7 @@ class Draft:
         found = self.add_block(place, self.step_lists[block], self.ends[block])
         if block in self.rows and place is not None:
             meanings, recipes = self.rows[block]
-            self.rows[found] = (list(meanings), dict(recipes))
+            self.rows[found] = (list(meanings), copied_table(recipes))
         return found
 
     def add_slot(self):
@@ -108,13 +109,12 @@ class Draft:
         if any([len(steps) > MOST_STEPS for steps in self.step_lists]):
             return self.as_given()
         code = self.code_now()
-        code_map = {block: (tuple(meanings), dict(recipes)) for block, (meanings, recipes) in self.rows.items()}
+        code_map = {block: (tuple(row[0]), copied_table(row[1])) for block, row in self.rows.items()}
         return (code, code_map) if is_code(code) and has_map_form(code, code_map) else self.as_given()
 
     def as_given(self):
         """The code and the map that were given."""
-        copied = {block: (meanings, dict(recipes)) for block, (meanings, recipes) in self.map_given.items()}
-        return (self.code_given, copied)
+        return (self.code_given, {block: (row[0], copied_table(row[1])) for block, row in self.map_given.items()})
 
     def reached(self):
         """A dict that has the blocks as keys to which ways lead from block 0."""

@@ -4,7 +4,7 @@ from heldover.codes import MOST_STEPS
 from heldover.drafts import operand_with, operation_with, with_blocks, with_operands, with_slots
 from heldover.graphs import Texts
 from heldover.operations import head_of, inner_of
-from heldover.termforms import ROUND, SLOT, VARIABLE, has_operands, is_value_term
+from heldover.termforms import ROUND, SLOT, VARIABLE, copied_table, has_operands, is_value_term
 
 
 def under_path(term, path):
@@ -79,7 +79,7 @@ class Coming:
         meanings = list(self.meanings)
         for slot, meaning in enumerate(row[0]):
             meanings[slot + self.shift] = under_path(meaning, self.path)
-        recipes = dict(self.recipes)
+        recipes = copied_table(self.recipes)
         for variable, recipe in row[1].items():
             recipes[under_path(variable, self.path)] = shifted_term(recipe, self.shift)
         return (meanings, recipes)

@@ -5,11 +5,12 @@ from heldover.drafts import Draft
 from heldover.errors import InvalidPass, UnknownName
 from heldover.inlining import inline
 from heldover.passes import apply_pass, is_pass
+from heldover.termforms import copied_table
 
 
 def copied_map(code_map):
     """A copy of a map."""
-    return {block: (row[0], dict(row[1])) for block, row in code_map.items()}
+    return {block: (row[0], copied_table(row[1])) for block, row in code_map.items()}
 
 
 def beginning_of(version, codes, maps):

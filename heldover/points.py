@@ -4,7 +4,7 @@ from heldover.building import built, contains, substituted
 from heldover.codepaths import CodePath
 from heldover.facts import Facts
 from heldover.sources import SourcePath
-from heldover.termforms import ROUND, SLOT, VARIABLE, put_in, unknowns_in
+from heldover.termforms import ROUND, SLOT, VARIABLE, copied_table, put_in, unknowns_in
 
 
 def atom_of(nodes, number):
@@ -62,7 +62,7 @@ class Point:
 
     def known_table(self):
         """The nodes of variables and rounds at the beginning of paths: rounds by the place, variables by recipes."""
-        facts, table = Facts(self.nodes), dict(self.unknown_table)
+        facts, table = Facts(self.nodes), copied_table(self.unknown_table)
         for _, number, unknown in self.rounds():
             if not isinstance(number, tuple):
                 table[unknown] = self.nodes.integer(number)

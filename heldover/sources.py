@@ -3,7 +3,7 @@
 from heldover.building import expressed
 from heldover.expressions import operands_of
 from heldover.nodes import FALSE, TRUE
-from heldover.termforms import ROUND, VARIABLE
+from heldover.termforms import ROUND, VARIABLE, copied_table
 
 MOST_PATHS = 64
 # A path without an end would be longer; the text of one path is never as long between two points.
@@ -30,8 +30,8 @@ class SourcePath:
 
     def copied(self, facts):
         """A path that is the same until here, with other facts."""
-        found = SourcePath(self.layers, dict(self.table), facts)
-        found.weights = dict(self.weights)
+        found = SourcePath(self.layers, copied_table(self.table), facts)
+        found.weights = copied_table(self.weights)
         found.large = self.large
         found.count = self.count
         return found

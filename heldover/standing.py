@@ -26,12 +26,12 @@ def is_of_sort(end, inner):
 class Surrounding:
     """What stands around a node: the function of its code, calls that are inlined there, and values of unknowns."""
 
-    def __init__(self, name, owner, path=(), before=(), values=()):
+    def __init__(self, name, owner, path=(), before=(), known=()):
         self.name = name
         self.owner = owner
         self.path = path
         self.before = before
-        self.known = dict(values)
+        self.known = {unknown: known[unknown] for unknown in known}
 
     def with_node(self, loops, parts, variables):
         """A copy that has the values of a node of its own function, too."""

@@ -97,13 +97,19 @@ def has_operands(term):
     return term[0] not in UNKNOWNS and term != ANSWER and term[0] != "value"
 
 
+def copied_table(table):
+    """A copy of a dict from unknowns."""
+    return {unknown: table[unknown] for unknown in table}
+
+
 def unknowns_in(term):
     """A dict that has the unknowns in a term as its keys."""
     if not has_operands(term):
         return {} if is_value_term(term) else {term: True}
     found = {}
     for operand in inner_of(term):
-        found.update(unknowns_in(operand))
+        for unknown in unknowns_in(operand):
+            found[unknown] = True
     return found
 
 

@@ -6,7 +6,7 @@ and rounds that no body changes, the right one over variables and rounds.
 
 from heldover.building import built
 from heldover.syntax import set_in
-from heldover.termforms import SLOT, VARIABLE, put_in, unknowns_in
+from heldover.termforms import SLOT, VARIABLE, copied_table, put_in, unknowns_in
 
 
 def region_of(ways, first):
@@ -37,7 +37,7 @@ class Meeting:
     def __init__(self, facts, slots, table):
         self.facts = facts
         self.table = table
-        self.known = {unknown: table[unknown] for unknown in table}
+        self.known = copied_table(table)
         for slot, number in enumerate(slots):
             if number is not None:
                 self.known[SLOT, slot] = number

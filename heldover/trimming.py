@@ -49,7 +49,8 @@ def trim_recipes(draft, version):
                 known[name] = Needs(layer.graph)
             needs = known[name]
             mask = needs.masks[layer.at_step] if layer == layers[-1] else needs.behind_call(layer.at_step)
-            wanted.update({("var", layer.path, variable): True for variable in needs.named(mask)})
+            for variable in needs.named(mask):
+                wanted["var", layer.path, variable] = True
         meanings, recipes = draft.rows[block]
         draft.rows[block] = (meanings, {one: term for one, term in recipes.items() if one in wanted})
 
