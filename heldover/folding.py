@@ -12,7 +12,10 @@ MOST_BITS = 10000
 
 
 def met(known, other):
-    """What two states have in common; a state is a dict from slots to values, None if nothing has come there yet."""
+    """What two states have in common.
+
+    A state is a dict from slots to the operands for their values, None if nothing has come there yet.
+    """
     if known is None:
         return dict(other)
     return {slot: value for slot, value in known.items() if slot in other and strictly_equal(value, other[slot])}
@@ -23,7 +26,7 @@ def behind_steps(steps, known):
     known = dict(known)
     for slot, operation in steps:
         if operation[0] == "value":
-            known[slot] = operation[1]
+            known[slot] = operation
         elif slot in known:
             del known[slot]
     return known
@@ -68,24 +71,22 @@ def folded(operation):
     return operation if value is None else ("value", value)
 
 
-def operands_of_state(known):
-    """A dict from slots to the operands for the values that they are known to have."""
-    return {slot: ("value", value) for slot, value in known.items()}
-
-
 def folded_steps(steps, known):
     """Steps with the values that are known put in, and the state behind them."""
-    found = []
+    found, known = [], dict(known)
     for slot, operation in steps:
-        operation = folded(operation_with(operation, operands_of_state(known)))
+        operation = folded(operation_with(operation, known))
         found.append((slot, operation))
-        known = behind_steps([(slot, operation)], known)
+        if operation[0] == "value":
+            known[slot] = operation
+        elif slot in known:
+            del known[slot]
     return found, known
 
 
 def folded_end(end, known):
     """An end with the values that are known put in."""
-    end = with_operands(end, operands_of_state(known))
+    end = with_operands(end, known)
     if end[0] == "branch" and end[1][0] == "value" and isinstance(end[1][1], bool):
         return ("jump", end[2] if end[1][1] else end[3])
     return end
@@ -111,11 +112,11 @@ def fold_once(draft):
 def fold_row(row, known):
     """Puts the values that are known into meanings and recipes."""
     meanings, recipes = row
-    for slot, value in known.items():
+    for slot, operand in known.items():
         # What a variable holds is told by its recipe; the round of a loop has none.
         if meanings[slot] is not None and any([unknown[0] == ROUND for unknown in unknowns_in(meanings[slot])]):
-            meanings[slot] = ("value", value)
-    table = {(SLOT, slot): ("value", value) for slot, value in known.items()}
+            meanings[slot] = operand
+    table = {(SLOT, slot): operand for slot, operand in known.items()}
     for variable in list(recipes):
         if recipes[variable] is not None:
             recipes[variable] = folded_term(put_in(recipes[variable], table))

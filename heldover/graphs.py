@@ -54,11 +54,11 @@ class Graph:
         self.steps = []
         self.by_parts = {}
         self.effect_table = {function: version.effects(function) for function in version.names()}
-        finish = self.add("finish", None, None, Around())
-        beginning = self.add("point", (), None, Around())
+        finish = self.put_step("finish", None, None, Around())
+        beginning = self.put_step("point", (), None, Around())
         self.lead(beginning, (self.add_body(self.body, finish, Around()),))
 
-    def add(self, word, parts, statement, site, targets=()):
+    def put_step(self, word, parts, statement, site, targets=()):
         """Adds a step and returns its number."""
         self.steps.append(Step(word, parts, statement, site, targets))
         if parts is not None:
@@ -95,12 +95,12 @@ class Graph:
 
 def add_simple(graph, statement, behind, site):
     """A statement that only sets a variable."""
-    return graph.add("set", None, statement, site, (behind,))
+    return graph.put_step("set", None, statement, site, (behind,))
 
 
 def add_leaving(graph, statement, behind, site):
     """A statement behind which nothing follows."""
-    return graph.add(statement[0], None, statement, site)
+    return graph.put_step(statement[0], None, statement, site)
 
 
 def add_break(graph, statement, behind, site):
@@ -111,13 +111,13 @@ def add_break(graph, statement, behind, site):
 def add_if(graph, statement, behind, site):
     """Two bodies."""
     targets = tuple([graph.add_body(body, behind, site) for body in statement[2:]])
-    return graph.add("test", None, statement, site, targets)
+    return graph.put_step("test", None, statement, site, targets)
 
 
 def add_match(graph, statement, behind, site):
     """A body for each case."""
     targets = tuple([graph.add_body(body, behind, site) for _, _, body in statement[2]])
-    return graph.add("match", None, statement, site, targets)
+    return graph.put_step("match", None, statement, site, targets)
 
 
 def add_loop(graph, statement, behind, site):
@@ -125,10 +125,10 @@ def add_loop(graph, statement, behind, site):
     _, label, _, body = statement
     inside = site.inside(label, ANY_ROUND)
     inside.left = behind
-    head = graph.add("head", inside.parts, statement, site)
-    count = graph.add("count", None, statement, site, (head,))
+    head = graph.put_step("head", inside.parts, statement, site)
+    count = graph.put_step("count", None, statement, site, (head,))
     graph.lead(head, (graph.add_body(body, count, inside), behind))
-    return graph.add("zero", None, statement, site, (head,))
+    return graph.put_step("zero", None, statement, site, (head,))
 
 
 def add_try(graph, statement, behind, site):
@@ -137,7 +137,7 @@ def add_try(graph, statement, behind, site):
     caught = []
     for number, (error, handler) in enumerate(handlers, start=1):
         inside = site.inside(label, number)
-        point = graph.add("point", inside.parts, None, site)
+        point = graph.put_step("point", inside.parts, None, site)
         graph.lead(point, (graph.add_body(handler, behind, inside),))
         caught.append((error, point))
     inside = site.inside(label, 0)
@@ -148,17 +148,17 @@ def add_try(graph, statement, behind, site):
 def add_positioned(graph, statement, behind, site):
     """A statement that waits, or a call."""
     word = "call" if statement[0] == "call" else "outer"
-    return graph.add(word, (*site.parts, (statement[1], 0)), statement, site, (behind,))
+    return graph.put_step(word, (*site.parts, (statement[1], 0)), statement, site, (behind,))
 
 
 def add_both(graph, statement, behind, site):
     """Two bodies, each with an end of its own, and the place behind them."""
     _, label, *bodies = statement
-    both = graph.add("both", (*site.parts, (label, 0)), statement, site)
-    point = graph.add("point", (*site.parts, (label, BEHIND_BOTH)), None, site, (behind,))
+    both = graph.put_step("both", (*site.parts, (label, 0)), statement, site)
+    point = graph.put_step("point", (*site.parts, (label, BEHIND_BOTH)), None, site, (behind,))
     firsts = []
     for number, body in enumerate(bodies):
-        done = graph.add("done", (*site.parts, (label, BODY_ENDS[number])), (both, number), site)
+        done = graph.put_step("done", (*site.parts, (label, BODY_ENDS[number])), (both, number), site)
         firsts.append(graph.add_body(body, done, Around((*site.parts, (label, number)), (), done)))
     graph.lead(both, (*firsts, point))
     return both
@@ -167,7 +167,7 @@ def add_both(graph, statement, behind, site):
 def add_since(graph, statement, behind, site):
     """Two arms."""
     targets = tuple([graph.add_body(body, behind, site) for body in statement[2:]])
-    return graph.add("mark", (*site.parts, (statement[1], 0)), statement, site, targets)
+    return graph.put_step("mark", (*site.parts, (statement[1], 0)), statement, site, targets)
 
 
 ACTIONS = {
