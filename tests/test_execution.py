@@ -68,13 +68,12 @@ class SameTest(unittest.TestCase):
         """From each earlier frame the same is come to."""
         if run.missed():
             return
-        for frame, known in frames:
+        for frame, known, passed in frames:
             further = Execution.from_frame(version, codes, "ann", 0, frame, story)
             self.assertEqual((further.waits(), further.end()), (done.waits(), done.end()))
             self.assertEqual(further.differences(), done.differences())
-            behind = [index for index in done.come_to() if index not in known]
-            self.assertTrue(set(behind) <= set(further.come_to()) <= set(done.come_to()))
-            self.assertTrue(set(further.passed()) <= set(done.passed()))
+            self.assertEqual(further.come_to(), [index for index in done.come_to() if index not in known])
+            self.assertEqual(further.passed(), [index for index in done.passed() if index not in passed])
             if run.end() is None:
                 self.assertEqual(further.frame(), done.frame())
 
@@ -86,7 +85,8 @@ class SameTest(unittest.TestCase):
             run, done = self.compare(version, codes, maps, start, story)
             self.go_on(version, codes, frames, story, run, done)
             if run.end() is None:
-                frames.append((done.frame(), done.come_to()))
+                # Entries of the steps at which it stands are behind the frame.
+                frames.append((done.frame(), set(done.come_to()) - set(done.waits()), done.passed()))
             waits = {index: question for index, question in done.waits().items() if index not in story}
             if not waits:
                 break

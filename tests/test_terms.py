@@ -366,6 +366,82 @@ class ChanceTest(unittest.TestCase):
         return ("not", ("not", (word, *parts))) if word in ("and", "or", "same", "not") else (word, *parts)
 
 
+class Rewriter:
+    """Rewrites terms by the rules of [42], at any place, also by conditions."""
+
+    def __init__(self, chance, conditions):
+        self.chance, self.conditions = chance, conditions
+        self.kind = Terms(VERSION, KINDS).kind
+
+    def same(self, one, other):
+        return repr(one) == repr(other)
+
+    def of_integer(self, term):
+        word = term[0]
+        yield from (("add", term, value(0)), ("mul", term, value(1)), ("sub", ("add", term, Y), Y), ("part", 0, ("tag", "Mix", term, T)))
+        if word in ("add", "mul"):
+            yield (word, term[2], term[1])
+        if word == "add" and term[1][0] == "add":
+            yield ("add", term[1][1], ("add", term[1][2], term[2]))
+        if word == "mul" and term[2][0] in ("add", "sub"):
+            yield (term[2][0], ("mul", term[1], term[2][1]), ("mul", term[1], term[2][2]))
+        if word == "sub":
+            yield ("add", term[1], ("mul", value(-1), term[2]))
+        if word == "value":
+            yield ("add", value(term[1] - 3), value(3))
+
+    def of_truth(self, term):
+        word = term[0]
+        yield from (("not", ("not", term)), ("and", term, TRUE), ("or", FALSE, term), ("and", term, term), ("or", term, term),
+                    ("part", 1, ("tag", "Two", COL, term)))
+        if word in ("and", "or", "same"):
+            yield (word, term[2], term[1])
+        if word == "less":
+            yield from (("not", ("less", term[2], ("add", term[1], value(1)))), ("less", value(0), ("sub", term[2], term[1])))
+        if word == "not" and term[1][0] == "less":
+            yield ("less", term[1][2], ("add", term[1][1], value(1)))
+        if word == "same" and self.kind(term[1]) == "int":
+            yield from (("same", ("sub", term[1], term[2]), value(0)), ("same", value(0), ("sub", term[1], term[2])))
+        if self.same(term, TRUE):
+            yield from (("same", COL, COL), ("less", value(0), ("add", R, value(1))), ("or", B, TRUE), ("is", "Two", PR))
+        if self.same(term, FALSE):
+            yield from (("same", ("add", R, value(1)), value(0)), ("and", B, FALSE), ("is", "Red", ("tag", "Mix", X, T)))
+
+    def at_root(self, term):
+        kind, found = self.kind(term), []
+        for condition, truth in self.conditions:
+            if self.same(term, condition):
+                found.append(value(truth))
+            if self.same(term, value(truth)):
+                found.append(condition)
+        if kind in ("int", "bool"):
+            found.extend(self.of_integer(term) if kind == "int" else self.of_truth(term))
+        return self.chance.choice(found) if found else term
+
+    def anywhere(self, term):
+        first = {"tag": 2, "is": 2, "part": 2}.get(term[0], 1)
+        places = [] if term[0] in ("var", "round", "value") else list(range(first, len(term)))
+        if not places or self.chance.random() < 0.35:
+            return self.at_root(term)
+        at = self.chance.choice(places)
+        return (*term[:at], self.anywhere(term[at]), *term[at + 1:])
+
+
+class RewritingByChanceTest(unittest.TestCase):
+    def test_rewritten_terms_are_recognized(self):
+        maker = ChanceTest()
+        for seed in range(400):
+            chance = Random(seed)
+            conditions = [(maker.truth(chance, 2), chance.random() < 0.6) for _ in range(chance.randint(0, 3))]
+            terms, rewriter = Terms(VERSION, KINDS, conditions), Rewriter(chance, conditions)
+            term = maker.truth(chance, 3) if chance.random() < 0.7 else ("tag", "Two", COL, maker.truth(chance, 2))
+            other = term
+            for _ in range(chance.randint(1, 25)):
+                further = rewriter.anywhere(other)
+                other = further if is_term(further) and len(repr(further)) < 3000 else other
+            self.assertTrue(terms.same_terms(term, other), (seed, term, other, conditions))
+
+
 class LargeTest(unittest.TestCase):
     def balanced(self, parts, word):
         while len(parts) > 1:
