@@ -5,11 +5,11 @@ What a function or a body comes to is an outcome: ("return", value), ("raise", e
 """
 
 from heldover.codes import WAITING_WORDS, is_below
+from heldover.courses import Course
 from heldover.errors import Stuck
 from heldover.indexes import GREATEST_NUMBER
 from heldover.operations import head_of, inner_of, is_mere_operand, operated
-from heldover.performing import MARK
-from heldover.stories import is_question, strictly_equal
+from heldover.stories import is_question
 from heldover.values import is_integer
 
 MOST_DONE = 20000
@@ -46,25 +46,12 @@ class Level:
         return ("stop", (tuple(self.slots), block, inner))
 
 
-class Doing:
-    """An execution while it is done, and what it came to.
-
-    passed has the marks without an entry at which the old arm is taken; None stands for all of them.
-    """
+class Doing(Course):
+    """An execution while it is done."""
 
     def __init__(self, version, codes, task, epoch, story, passed):
-        self.version = version
-        self.kind_table = version.kinds()
+        super().__init__(version, task, epoch, story, passed)
         self.codes = codes
-        self.task_name = task
-        self.epoch = epoch
-        self.told = story
-        self.may_pass = passed
-        self.waiting = {}
-        self.different = {}
-        self.came = {}
-        self.passing = {}
-        self.proven = {}
         self.count = 0
 
     def begin_block(self, level, block):
@@ -72,12 +59,6 @@ class Doing:
         if self.count == MOST_DONE:
             raise Stuck(level.code[0], block)
         self.count += 1
-
-    def come_to(self, index, level):
-        """Comes to an entry; all marks on the way to it are passed by this."""
-        self.came[index] = True
-        for mark in level.marks:
-            self.proven[mark] = True
 
     def operand(self, level, operand):
         """The value of an operand, None for nothing."""
@@ -115,24 +96,6 @@ class Doing:
                 raise Stuck(level.code[0], block)
             parts.append((label, number))
         return (*level.prefix, *parts)
-
-    def fits(self, question, answer):
-        """Whether an answer is of the kind that the version declares."""
-        if question[0] == "ask":
-            doors = [door[0] for module in self.version.modules() for door in module[3]]
-            return question[1] in doors and self.kind_table.is_value(self.version.door(question[1])[1], answer)
-        if question[0] == "receive":
-            keys = [key[0] for module in self.version.modules() for key in module[4]]
-            return question[1] in keys and self.kind_table.is_value(self.version.key(question[1]), answer[1])
-        return True
-
-    def problem_of(self, question, entry):
-        """The problem of an entry at a step that makes this question, or None."""
-        if not strictly_equal(entry[0], question):
-            return "question"
-        if entry[1] is not None and not self.fits(question, entry[1]):
-            return "answer"
-        return None
 
 
 def do_function(doing, level, block=0):
@@ -266,37 +229,21 @@ def do_outer(doing, level, block, end):
     """Asks something; goes on only with an answer of the story."""
     index = doing.index_at(level, block)
     question = question_at(doing, level, block, end)
-    entry = doing.told.get(index)
-    if entry is not None:
-        problem = doing.problem_of(question, entry)
-        if problem is not None:
-            doing.different[index] = (problem, question)
-            return level.stop(block, None)
-        doing.come_to(index, level)
-    if entry is None or entry[1] is None:
-        doing.waiting[index] = question
+    answer = doing.answer_at(index, question, level)
+    if answer is None:
         return level.stop(block, None)
     if end[0] in ("ask", "start", "receive") and end[1] is not None:
-        level.slots[end[1]] = entry[1][1] if end[0] == "receive" else entry[1]
+        level.slots[end[1]] = answer[1] if end[0] == "receive" else answer
     return ("next", end[-1])
 
 
 def do_mark(doing, level, block, end):
     """The new arm with an entry, the old one at a mark that is passed; at any other mark the execution waits."""
     index = doing.index_at(level, block)
-    entry = doing.told.get(index)
-    if entry is None:
-        if doing.may_pass is not None and index not in doing.may_pass:
-            doing.waiting[index] = MARK
-            return level.stop(block, None)
-        doing.passing[index] = True
-        level.marks.append(index)
-        return ("next", end[2])
-    if not strictly_equal(entry[0], MARK):
-        doing.different[index] = ("question", MARK)
+    arm = doing.arm_at(index, level)
+    if arm is None:
         return level.stop(block, None)
-    doing.come_to(index, level)
-    return ("next", end[1])
+    return ("next", end[1] if arm == "new" else end[2])
 
 
 ACTIONS = {

@@ -1,13 +1,13 @@
 """Executions: what codes do with a story."""
 
 from heldover.codes import is_codes
+from heldover.courses import MARK
 from heldover.errors import (
     InvalidCodes, InvalidEpoch, InvalidFrame, InvalidStart, InvalidStory, InvalidTask, NoFrame, Stuck,
 )
 from heldover.executing import Doing, Level, do_function, go_on
 from heldover.frames import is_frame
 from heldover.indexes import is_epoch
-from heldover.performing import MARK
 from heldover.runs import copied, end_of, is_start
 from heldover.stories import entries, is_story
 from heldover.values import is_task_string

@@ -5,11 +5,9 @@ Each body is performed with an outcome: None if it came to its end; ("break",), 
 the tree that tells where.
 """
 
+from heldover.courses import Course
 from heldover.expressions import evaluate
-from heldover.stories import strictly_equal
 from heldover.syntax import set_in
-
-MARK = ("mark",)
 
 
 class Branch:
@@ -41,24 +39,11 @@ class Branch:
         return ("stop", (parts, dict(self.variables), inner))
 
 
-class Performance:
-    """A run while it is performed, and what it came to.
-
-    passed has the marks without an entry at which the old arm is taken; None stands for all of them, as in an old run.
-    """
+class Performance(Course):
+    """A plain run while it is performed."""
 
     def __init__(self, version, task, epoch, story, passed):
-        self.version = version
-        self.kind_table = version.kinds()
-        self.task_name = task
-        self.epoch = epoch
-        self.told = story
-        self.may_pass = passed
-        self.waiting = {}
-        self.different = {}
-        self.came = {}
-        self.passing = {}
-        self.proven = {}
+        super().__init__(version, task, epoch, story, passed)
         self.steps = {}
 
     def value_of(self, expression, branch):
@@ -75,28 +60,6 @@ class Performance:
         frame = (branch.owner, parts[-1][0], dict(branch.variables))
         self.steps[index] = (tuple(branch.path), [*branch.above, frame])
         return index
-
-    def come_to(self, index, branch):
-        """Comes to an entry; all marks on the way to it are passed by this."""
-        self.came[index] = True
-        for mark in branch.marks:
-            self.proven[mark] = True
-
-    def fits(self, question, answer):
-        """Whether an answer is of the kind that the version declares."""
-        if question[0] == "ask":
-            return self.kind_table.is_value(self.version.door(question[1])[1], answer)
-        if question[0] == "receive":
-            return self.kind_table.is_value(self.version.key(question[1]), answer[1])
-        return True
-
-    def problem_of(self, question, entry):
-        """The problem of an entry at a step that makes this question, or None."""
-        if not strictly_equal(entry[0], question):
-            return "question"
-        if entry[1] is not None and not self.fits(question, entry[1]):
-            return "answer"
-        return None
 
     def performed(self, function, operands, prefix, above, path, marks):
         """Performs a call of a function; returns the outcome, which is never None."""
@@ -217,19 +180,12 @@ def perform_outer(run, branch, statement, parts):
     here = (*parts, (label, 0))
     question = question_of(run, branch, statement)
     index = run.note_step(branch, here)
-    entry = run.told.get(index)
-    if entry is not None:
-        problem = run.problem_of(question, entry)
-        if problem is not None:
-            run.different[index] = (problem, question)
-            return branch.stop(here, None)
-        run.come_to(index, branch)
-    if entry is None or entry[1] is None:
-        run.waiting[index] = question
+    answer = run.answer_at(index, question, branch)
+    if answer is None:
         return branch.stop(here, None)
     branch.path.append(index)
     if word in ("ask", "start", "receive"):
-        branch.variables[statement[2]] = entry[1][1] if word == "receive" else entry[1]
+        branch.variables[statement[2]] = answer[1] if word == "receive" else answer
     return None
 
 
@@ -265,18 +221,11 @@ def perform_since(run, branch, statement, parts):
     _, label, new, old = statement
     here = (*parts, (label, 0))
     index = run.note_step(branch, here)
-    entry = run.told.get(index)
-    if entry is None:
-        if run.may_pass is not None and index not in run.may_pass:
-            run.waiting[index] = MARK
-            return branch.stop(here, None)
-        run.passing[index] = True
-        branch.marks.append(index)
-        return perform_body(run, branch, old, parts)
-    if not strictly_equal(entry[0], MARK):
-        run.different[index] = ("question", MARK)
+    arm = run.arm_at(index, branch)
+    if arm is None:
         return branch.stop(here, None)
-    run.come_to(index, branch)
+    if arm == "old":
+        return perform_body(run, branch, old, parts)
     branch.path.append(index)
     return perform_body(run, branch, new, parts)
 

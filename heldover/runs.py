@@ -1,8 +1,9 @@
 """Plain runs: what a version does with a story."""
 
+from heldover.courses import MARK
 from heldover.errors import InvalidEpoch, InvalidStart, InvalidStory, InvalidTask, UnknownStep
 from heldover.indexes import is_epoch, is_index
-from heldover.performing import MARK, Performance
+from heldover.performing import Performance
 from heldover.stories import entries, is_moment, is_story, strictly_equal
 from heldover.values import is_task_string
 
