@@ -7,7 +7,10 @@ from heldover.errors import (
     Conflict, InvalidAnswer, InvalidArguments, InvalidCount, InvalidMinutes, InvalidName, InvalidOperation, InvalidRecord,
     NotClosed, NotFound, NotOpen, NotReady, Taken, TooMany, UnknownName,
 )
+from heldover.execution import Execution
+from heldover.frames import is_right_frame
 from heldover.machine import Machine
+from heldover.pipelines import Pipeline, optimized
 from heldover.runs import Run
 from heldover.tasks import Task
 from heldover.versions import Version
@@ -606,6 +609,19 @@ class ChanceTest(MachineTest):
     def test_lives(self):
         for seed in range(30):
             self.same_again(self.live(seed))
+
+    def test_optimized_codes_stand_where_the_tasks_stand(self):
+        for seed in range(30, 45):
+            machine = self.live(seed)
+            version = machine.versions()[0]
+            codes, maps = optimized(version, Pipeline.standard("1", "2", "lca", "lea"))
+            for name in machine.names():
+                run = machine.run(name)
+                done = Execution(version, codes, name, run.epoch, run.start, run.story())
+                self.assertEqual((done.waits(), done.differences(), done.end()), (run.waits(), {}, run.end()))
+                if run.end() is None:
+                    self.assertTrue(is_right_frame(codes, maps, run, done.frame()))
+                    self.assertEqual(Execution.from_frame(version, codes, name, run.epoch, done.frame(), run.story()).waits(), run.waits())
 
     def test_another_order_of_the_tasks(self):
         for names in (("ann", "bob", "eve"), ("eve", "ann", "bob"), ("bob", "eve", "ann")):
