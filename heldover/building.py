@@ -60,7 +60,7 @@ def substituted(facts, number, table):
         return nodes.multiplied(changed[0], changed[1])
     if word == "part":
         return nodes.part(texts[0], numbers[0], changed[0])
-    return operated_node(nodes, facts, texts and (word, *texts) or (word,), changed)
+    return operated_node(nodes, facts, (word, *texts), changed)
 
 
 def contains(nodes, number, wanted):

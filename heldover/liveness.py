@@ -22,4 +22,4 @@ def needed_variables(version, function, place):
     layers = Texts(version).located(function, place)
     if layers is None:
         raise NoPoint(place)
-    return needed_at(layers)
+    return needed_at(layers, {})

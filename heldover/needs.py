@@ -91,11 +91,17 @@ class Needs:
         return [name for name, bit in self.bits.items() if mask >> bit & 1]
 
 
-def needed_at(layers):
-    """The sorted list of the variables that are needed at the position of the last of these layers."""
+def needed_at(layers, known):
+    """The sorted list of the variables that are needed at the position of the last of these layers.
+
+    known keeps what was found of functions, by their names.
+    """
     found = []
-    for layer in layers:
-        needs = Needs(layer.graph)
-        mask = needs.masks[layer.at_step] if layer == layers[-1] else needs.behind_call(layer.at_step)
-        found.extend([("var", layer.path, name) for name in needs.named(mask)])
+    for at, layer in enumerate(layers, start=1):
+        name = layer.graph.owner
+        if name not in known:
+            known[name] = Needs(layer.graph)
+        needs = known[name]
+        mask = needs.masks[layer.at_step] if at == len(layers) else needs.behind_call(layer.at_step)
+        found.extend([("var", layer.path, variable) for variable in needs.named(mask)])
     return sorted(found)

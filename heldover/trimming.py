@@ -2,7 +2,7 @@
 
 from heldover.graphs import Texts
 from heldover.living import body_regions, live_behind, live_masks, mask_of, reads_at_ends
-from heldover.needs import Needs
+from heldover.needs import needed_at
 from heldover.operations import slot_reads
 from heldover.transfers import region_of
 from heldover.ways import inner_targets
@@ -42,15 +42,7 @@ def trim_recipes(draft, version):
     texts, known = Texts(version), {}
     for block in sorted(draft.rows):
         layers = texts.located(draft.owner, draft.places[block])
-        wanted = {}
-        for layer in layers or ():
-            name = layer.graph.owner
-            if name not in known:
-                known[name] = Needs(layer.graph)
-            needs = known[name]
-            mask = needs.masks[layer.at_step] if layer == layers[-1] else needs.behind_call(layer.at_step)
-            for variable in needs.named(mask):
-                wanted["var", layer.path, variable] = True
+        wanted = {variable: True for variable in needed_at(layers or (), known)}
         meanings, recipes = draft.rows[block]
         draft.rows[block] = (meanings, {one: term for one, term in recipes.items() if one in wanted})
 
