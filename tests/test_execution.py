@@ -341,6 +341,44 @@ class CallTest(unittest.TestCase):
         self.assertEqual(done.waits(), {(0, ("b", 0), ("s", 0)): ("sleep", 1), (0, ("b", 1), ("r", 0)): ("receive", "paid")})
 
 
+class DeepFrameTest(unittest.TestCase):
+    """Frames within several calls, and going on from them."""
+
+    def setUp(self):
+        low = function("low", ("ask", "a", "x", "price", ("n",)), ("sleep", "s", "x"), ("return", ("add", "x", "n")))
+        mid = function("mid", ("call", "c", "x", "low", (("add", "n", 1),)), ("return", ("mul", "x", 2)))
+        top = function("top", ("call", "d", "y", "mid", (("add", "n", 1),)), ("return", ("sub", "y", 1)))
+        run = function("run", ("both", "b", (("call", "e", "x", "top", ("n",)),), (("sleep", "z", 1),)), ("return", "x"))
+        self.version = version_of(low, mid, top, run)
+        self.codes, self.maps = compiled_all(self.version)
+        self.index = (0, ("d", 0), ("c", 0), ("a", 0))
+
+    def test_three_calls(self):
+        for name, index in (("mid", (0, ("c", 0), ("a", 0))), ("top", self.index), ("run", (0, ("b", 0), ("e", 0), *self.index[1:]))):
+            self.check(name, index)
+
+    def check(self, name, index):
+        start = (name, (5,), 0)
+        done = Execution(self.version, self.codes, "ann", 0, start, {})
+        question = done.waits()[index]
+        frame, levels = done.frame(), 1
+        inner = frame
+        while inner[1][2] is not None:
+            inner = ("body", inner[1][2][0]) if isinstance(inner[1][2][0], tuple) else inner[1][2]
+            levels += 1
+        self.assertEqual(levels, {"mid": 2, "top": 3, "run": 5}[name])
+        self.assertTrue(is_right_frame(self.codes, self.maps, Run(self.version, "ann", 0, start, {}), frame))
+        story = {index: (question, 9, 3)}
+        asleep = (*index[:-1], ("s", 0))
+        for further in ({}, {asleep: (("sleep", 9), True, 4)}):
+            longer = {**story, **further}
+            whole = Execution(self.version, self.codes, "ann", 0, start, longer)
+            later = Execution.from_frame(self.version, self.codes, "ann", 0, frame, longer)
+            self.assertEqual((later.waits(), later.end(), later.come_to()), (whole.waits(), whole.end(), whole.come_to()))
+        if name != "run":
+            self.assertIsNotNone(later.end())
+
+
 class StuckTest(unittest.TestCase):
     """Each way of being stuck, with the block that is told."""
 
