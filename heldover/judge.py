@@ -98,13 +98,15 @@ def ways_from(case, point, beginning):
     if word in ANSWERED_WORDS:
         number = case.nodes.unknown(ANSWER, answer_kind(case, step.statement))
         way.give(step.statement[2], end[1], number)
-    return [way, *(error_ways(case, point, beginning, contexts) if word == "call" else ())]
+    return [way, *error_ways(case, point, beginning, contexts)]
 
 
 def error_ways(case, point, beginning, contexts):
-    """The ways of the errors of a call."""
-    found = []
-    blocks = {name: block for name, block in case.end_of(point)[5]}
+    """The ways of the errors, if a point is at a call."""
+    found, end = [], case.end_of(point)
+    if end[0] != "call":
+        return found
+    blocks = {name: block for name, block in end[5]}
     for error in point.layers[-1].graph.errors_of(point.step()):
         way = Way(beginning, contexts)
         SourceWalk(case.texts, case.nodes, case.stops).fail(way.source, error)

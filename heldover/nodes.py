@@ -15,7 +15,7 @@ BASE = 1000003
 # Beyond these a product is not multiplied out: products in the result, factors in one, bits of a coefficient.
 MOST_PRODUCTS = 1000
 MOST_FACTORS = 110
-MOST_BITS = 20000
+MOST_BITS = 100000
 # Nodes that are nested deeper are not looked into when a condition is used.
 DEEPEST_LOOK = 100
 TRUE = 0

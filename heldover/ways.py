@@ -51,4 +51,5 @@ def inner_targets(end):
 
 def targets(end):
     """The blocks to which ways lead from an end: all that it names."""
-    return [*(end[1:3] if end[0] == "both" else ()), *inner_targets(end)]
+    bodies = end[1:3] if end[0] == "both" else ()
+    return [*bodies, *inner_targets(end)]
