@@ -227,6 +227,16 @@ class LanguageTest(unittest.TestCase):
                 if isinstance(node, ast.Attribute):
                     self.check(node.attr in known, path, node, f"L18 {node.attr}")
 
+    def test_l5_names_in_classes(self):
+        decorated, plain = set(), set()
+        for path, tree in self.each():
+            for one in classes(tree):
+                for name, node in bound_names(one):
+                    self.check(name not in ("property", "staticmethod", "classmethod", "super", "args"), path, node, "L5")
+                for function in functions(one):
+                    (decorated if function.decorator_list else plain).add(function.name)
+        self.assertFalse(decorated & (plain | own_attributes() | class_values() | BUILTIN_METHODS), "L5")
+
     def test_l6_statements(self):
         barred = (ast.Global, ast.AsyncFunctionDef, ast.Match, ast.With, ast.Nonlocal, ast.Lambda)
         for path, tree in self.each():
