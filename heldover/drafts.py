@@ -2,9 +2,9 @@
 
 from heldover.codes import END_SHAPES, MOST_BLOCKS, MOST_SLOTS, MOST_STEPS, is_code
 from heldover.frames import has_map_form
-from heldover.operations import head_of, inner_of, is_mere_operand
-from heldover.termforms import copied_table
-from heldover.ways import targets
+from heldover.operations import head_of, inner_of, is_mere_operand, slot_reads
+from heldover.termforms import SLOT, copied_table, put_in, unknowns_in
+from heldover.ways import gives, reads, targets
 
 
 def with_blocks(end, table):
@@ -36,16 +36,32 @@ def with_operands(end, table):
     return tuple(found)
 
 
-def with_slots(end, shift):
-    """An end with other slots for its answer and those that are taken over: so many further on."""
+def with_slots(end, table):
+    """An end with other slots for its answer and those that are taken over; the table has the new ones."""
     found = [end[0]]
     for what, item in zip(END_SHAPES[end[0]], end[1:]):
         if what == "answer" and item is not None:
-            item = item + shift
+            item = table[item]
         if what == "slots":
-            item = tuple([slot + shift for slot in item])
+            item = tuple([table[slot] for slot in item])
         found.append(item)
     return tuple(found)
+
+
+def place_with(place, table):
+    """A place with other slots; the table has the new ones."""
+    found = []
+    for label, number in place:
+        found.append((label, (SLOT, table[number[1]]) if isinstance(number, tuple) else number))
+    return tuple(found)
+
+
+def slots_of(place, steps, end):
+    """The slots that a block names."""
+    found = [*reads(end), *gives(end)]
+    for slot, operation in steps:
+        found.extend([slot, *slot_reads(operation)])
+    return [*found, *[number[1] for _, number in place or () if isinstance(number, tuple)]]
 
 
 def operation_with(operation, table):
@@ -102,8 +118,37 @@ class Draft:
         blocks = [(place, tuple(steps), end) for place, steps, end in zip(self.places, self.step_lists, self.ends)]
         return (self.owner, self.parameters, self.slot_count, tuple(blocks))
 
+    def used_slots(self):
+        """The sorted list of the slots of parameters, and of those that blocks and recipes name."""
+        found = list(range(self.parameters))
+        for place, steps, end in zip(self.places, self.step_lists, self.ends):
+            found.extend(slots_of(place, steps, end))
+        for _, recipes in self.rows.values():
+            for recipe in recipes.values():
+                found.extend([unknown[1] for unknown in unknowns_in(recipe or ("value", 0))])
+        return sorted(set(found))
+
+    def drop_slots(self):
+        """Leaves out the slots that are not needed at all."""
+        used = self.used_slots()
+        table = {slot: number for number, slot in enumerate(used)}
+        operands = {slot: (SLOT, table[slot]) for slot in used}
+        terms = {(SLOT, slot): (SLOT, table[slot]) for slot in used}
+        for block in self.blocks():
+            steps = [(table[slot], operation_with(operation, operands)) for slot, operation in self.step_lists[block]]
+            self.step_lists[block] = steps
+            self.ends[block] = with_operands(with_slots(self.ends[block], table), operands)
+            if self.places[block] is not None:
+                self.places[block] = place_with(self.places[block], table)
+        for block, (meanings, recipes) in list(self.rows.items()):
+            moved = {one: None if recipes[one] is None else put_in(recipes[one], terms) for one in recipes}
+            self.rows[block] = ([meanings[slot] for slot in used], moved)
+        self.slot_count = len(used)
+
     def made(self):
         """The code and the map; those that were given, if a limit is exceeded."""
+        if self.slot_count > MOST_SLOTS:
+            self.drop_slots()
         if self.slot_count > MOST_SLOTS or len(self.ends) > MOST_BLOCKS:
             return self.as_given()
         if any([len(steps) > MOST_STEPS for steps in self.step_lists]):

@@ -1,7 +1,7 @@
 """The pass "inline": the blocks of a function in the place of its calls."""
 
 from heldover.codes import MOST_STEPS
-from heldover.drafts import operand_with, operation_with, with_blocks, with_operands, with_slots
+from heldover.drafts import operand_with, operation_with, place_with, with_blocks, with_operands, with_slots
 from heldover.graphs import Texts
 from heldover.operations import head_of, inner_of
 from heldover.termforms import ROUND, SLOT, VARIABLE, copied_table, has_operands, is_value_term
@@ -27,21 +27,15 @@ def shifted_term(term, shift):
     return (*head_of(term), *[shifted_term(operand, shift) for operand in inner_of(term)])
 
 
-def shifted_place(place, before, shift):
-    """A place behind that of a call, over slots that are so many further on."""
-    found = [(label, (SLOT, number[1] + shift) if isinstance(number, tuple) else number) for label, number in place]
-    return (*before, *found)
-
-
 def can_come_in(code):
     """Whether there is a code, without a both."""
     return code is not None and all([end[0] != "both" for _, _, end in code[3]])
 
 
 class Coming:
-    """The blocks of a function that come in for one call."""
+    """The blocks of a function that come in for one call, with their slots from one on."""
 
-    def __init__(self, draft, block, code, code_map, version):
+    def __init__(self, draft, block, code, code_map, version, shift):
         self.draft = draft
         self.version = version
         self.call = draft.ends[block]
@@ -49,8 +43,9 @@ class Coming:
         self.meanings, self.recipes = draft.rows.pop(block)
         self.code = code
         self.code_map = code_map
-        self.shift = draft.slot_count
-        self.slot_table = {slot: (SLOT, slot + self.shift) for slot in range(code[2])}
+        self.shift = shift
+        self.slots = {slot: slot + shift for slot in range(code[2])}
+        self.operands = {slot: (SLOT, slot + shift) for slot in range(code[2])}
         layers = Texts(version).located(draft.owner, self.where)
         self.path = (*layers[-1].path, self.where[-1][0])
         first = len(draft.ends)
@@ -62,12 +57,9 @@ class Coming:
     def come_in(self):
         """Adds the blocks, with their rows."""
         draft = self.draft
-        for _ in range(self.code[2]):
-            draft.add_slot()
-        self.meanings = [*self.meanings, *[None] * self.code[2]]
         for number, (place, steps, end) in enumerate(self.code[3]):
-            where = None if not place else shifted_place(place, self.where, self.shift)
-            moved = [(slot + self.shift, operation_with(one, self.slot_table)) for slot, one in steps]
+            where = None if not place else (*self.where, *place_with(place, self.slots))
+            moved = [(slot + self.shift, operation_with(one, self.operands)) for slot, one in steps]
             block = draft.add_block(where, moved, ("done",))
             if where is not None:
                 draft.rows[block] = self.row(self.code_map[number])
@@ -90,14 +82,14 @@ class Coming:
         blocks = {name: behind for name, behind in self.call[5]}
         if end[0] == "return":
             if self.call[1] is not None:
-                self.add_result(block, operand_with(end[1], self.slot_table))
+                self.add_result(block, operand_with(end[1], self.operands))
             else:
                 draft.ends[block] = ("jump", self.call[4])
             return
         if end[0] == "raise" and end[1] in blocks:
             draft.ends[block] = ("jump", blocks[end[1]])
             return
-        end = with_operands(with_slots(with_blocks(end, self.block_table), self.shift), self.slot_table)
+        end = with_operands(with_slots(with_blocks(end, self.block_table), self.slots), self.operands)
         if end[0] == "call":
             handled = [name for name, _ in end[5]]
             errors = [effect[1] for effect in self.version.effects(end[2]) if effect[0] == "raise"]
@@ -117,12 +109,17 @@ class Coming:
 
 
 def inline(draft, label, version, codes, maps):
-    """Inlines all calls with this label; returns the names of the functions that came in."""
-    found = []
-    for block in list(draft.blocks()):
+    """Inlines all calls with this label; returns the names of the functions that came in.
+
+    Nothing is kept in their slots outside of them, so that they may all have the same ones.
+    """
+    found, shift = {}, draft.slot_count
+    for block in draft.blocks():
         end, place = draft.ends[block], draft.places[block]
-        if end[0] != "call" or place[-1][0] != label or not can_come_in(codes.get(end[2])):
-            continue
-        Coming(draft, block, codes[end[2]], maps[end[2]], version).come_in()
-        found.append(end[2])
-    return found
+        if end[0] == "call" and place[-1][0] == label and can_come_in(codes.get(end[2])):
+            found[block] = end[2]
+    for _ in range(max([codes[name][2] for name in found.values()], default=0)):
+        draft.add_slot()
+    for block, name in found.items():
+        Coming(draft, block, codes[name], maps[name], version, shift).come_in()
+    return list(found.values())

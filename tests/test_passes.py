@@ -315,6 +315,27 @@ class InlineTest(unittest.TestCase):
         del codes["one"]
         self.assertEqual(apply_pass(("inline", "c"), version, codes, maps, "run"), (codes["run"], maps["run"]))
 
+    def test_slots_that_are_not_needed_are_left_out_at_the_limit(self):
+        names = ["f" + letter for letter in "abcdefghijkl"]
+        low = [function(name, ("ask", "a", "x", "price", ("n",)), ("return", "x"), inner=tuple(("v" + one, "int") for one in "abcdefg") + (("x", "int"),))
+               for name in names]
+        calls = [("call", name[1] * 2, "x", name, ("x",)) for name in names]
+        version = version_of(*low, function("run", *calls[:11], ("return", "x")))
+        codes, maps = compiled_all(version)
+        for _, label, _, _, _ in calls[:11]:
+            for one in (("inline", label), "dead"):
+                codes["run"], maps["run"] = apply_pass(one, version, codes, maps, "run")
+        self.assertEqual((places_with(codes["run"], "call"), len(places_with(codes["run"], "ask"))), ([], 11))
+        self.check(version, "run", codes["run"], maps["run"])
+
+    def test_calls_that_are_inlined_together_have_the_same_slots(self):
+        body = (("loop", "l", 2, (("call", "c", "x", "one", ("n",)), ("send", "m", "t", "num", "x"))), ("return", "x"))
+        version = version_of(self.ONE, function("run", *body))
+        code, rows = after(version, "run", ("unroll", "l"), ("inline", "c"))
+        self.assertEqual(len(places_with(code, "sleep")), 2)
+        self.assertEqual(code[2], after(version, "run")[0][2] + after(version, "one")[0][2])
+        self.check(version, "run", code, rows)
+
     def test_limits(self):
         functions = [function("fa", ("sleep", "s", "n"))]
         for letter, before in zip("bcdefghijklmnopqrstuv", "abcdefghijklmnopqrstu"):
