@@ -51,7 +51,7 @@ class Doing(Course):
 
     def __init__(self, version, codes, task, epoch, story, passed):
         super().__init__(version, task, epoch, story, passed)
-        self.codes = codes
+        self.code_table = codes
         self.count = 0
 
     def begin_block(self, level, block):
@@ -162,7 +162,7 @@ def do_call(doing, level, block, end):
     """Calls a function."""
     index = doing.index_at(level, block)
     values = doing.read_all(level, block, end[3])
-    code = doing.codes.get(end[2])
+    code = doing.code_table.get(end[2])
     if code is None or code[1] != len(values) or level.depth == DEEPEST:
         raise Stuck(level.code[0], block)
     slots = [*values, *[None] * (code[2] - len(values))]
@@ -261,7 +261,7 @@ def go_on(doing, level, branch):
     doing.begin_block(level, block)
     if end[0] == "call":
         index = doing.index_at(level, block)
-        callee = level.callee(doing.codes[inner[0]], list(inner[1][0]), index)
+        callee = level.callee(doing.code_table[inner[0]], list(inner[1][0]), index)
         outcome = behind_call(level, block, end, go_on(doing, callee, inner[1]))
     else:
         bodies = [level.parted(body[1] if body[0] == "ended" else body[0]) for body in inner]

@@ -42,8 +42,8 @@ def outcome_of(doing, beginning):
     """Does the blocks from a start or a frame on; returns the outcome."""
     if isinstance(beginning, Held):
         name, branch = beginning.frame_held
-        return go_on(doing, Level(doing.codes[name], list(branch[0]), (doing.epoch,), 0, []), branch)
-    code = doing.codes[beginning[0]]
+        return go_on(doing, Level(doing.code_table[name], list(branch[0]), (doing.epoch,), 0, []), branch)
+    code = doing.code_table[beginning[0]]
     slots = [*beginning[1], *[None] * (code[2] - code[1])]
     return do_function(doing, Level(code, slots, (doing.epoch,), 0, []))
 

@@ -5,7 +5,8 @@ from heldover.errors import InvalidCode, InvalidCodes, InvalidMap, InvalidTerm, 
 from heldover.standing import Standpoint, taken_meaning
 from heldover.stories import is_datum, strictly_equal
 from heldover.termforms import (
-    MAP_LEVELS, MAP_SUBTERMS, SLOT, count_subterms, is_map_term, is_round, is_slot, is_variable, value_in,
+    MAP_LEVELS, MAP_SUBTERMS, SLOT, count_subterms, is_map_term, is_round, is_slot, is_variable, recipe_values,
+    value_in,
 )
 from heldover.values import is_name
 
@@ -202,8 +203,4 @@ def values_in(code, code_map, point, slots):
         raise InvalidMap(code_map)
     if not is_below(point, len(code[3])) or point not in code_map:
         raise NoPoint(point)
-    values = {(SLOT, slot): value for slot, value in enumerate(slots) if value is not None}
-    recipes = code_map[point][1]
-    return {
-        variable: None if recipe is None else value_in(recipe, values, "") for variable, recipe in recipes.items()
-    }
+    return recipe_values(code_map[point][1], slots)

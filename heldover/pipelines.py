@@ -30,6 +30,17 @@ def came_in(one, version, codes, maps, function):
     return found if draft.made()[0] != codes[function] else []
 
 
+def all_came_in(passes, version, codes, maps, function):
+    """The sorted list of the names of the functions of which blocks come in by passes, one after another."""
+    codes = {name: codes[name] for name in codes}
+    maps = {name: maps[name] for name in maps}
+    found = []
+    for one in passes:
+        found.extend(came_in(one, version, codes, maps, function))
+        codes[function], maps[function] = apply_pass(one, version, codes, maps, function)
+    return sorted(set(found))
+
+
 class Pipeline:
     """A tuple of passes."""
 
@@ -71,11 +82,7 @@ class Pipeline:
         if function not in version:
             raise UnknownName(function)
         codes, maps = compiled_all(version)
-        found = {}
-        for one in self.passes:
-            found.update({name: True for name in came_in(one, version, codes, maps, function)})
-            codes[function], maps[function] = apply_pass(one, version, codes, maps, function)
-        return sorted(found)
+        return all_came_in(self.passes, version, codes, maps, function)
 
     def _words(self):
         """The reprs of the passes."""

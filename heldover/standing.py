@@ -52,8 +52,8 @@ class Standpoint:
     """Makes frames of a run."""
 
     def __init__(self, codes, maps, run):
-        self.codes = codes
-        self.maps = maps
+        self.code_table = codes
+        self.map_table = maps
         self.version = run.version
         self.task_name = run.name
 
@@ -88,7 +88,7 @@ class Standpoint:
     def block_at(self, parts, inner, around):
         """The block that has these parts as its place, or None; of several the one with the fewest slots there."""
         fitting = []
-        code = self.codes.get(around.name)
+        code = self.code_table.get(around.name)
         for block, (place, _, end) in enumerate(() if code is None else code[3]):
             if place is not None and is_of_sort(end, inner) and self.fits(block, place, parts, around):
                 count = len([number for _, number in place if isinstance(number, tuple)])
@@ -99,7 +99,7 @@ class Standpoint:
         """Whether a place, its numbers by their meanings, has these parts."""
         if [label for label, _ in place] != [label for label, _ in parts]:
             return False
-        meanings = self.maps[around.name][block][0]
+        meanings = self.map_table[around.name][block][0]
         for (_, number), (_, wanted) in zip(place, parts):
             if isinstance(number, tuple):
                 number = self.value_at(meanings[number[1]], around)
@@ -109,13 +109,13 @@ class Standpoint:
 
     def branch_in(self, block, inner, around):
         """The branch that stands at a block."""
-        meanings = self.maps[around.name][block][0]
+        meanings = self.map_table[around.name][block][0]
         slots = tuple([self.value_at(meaning, around) for meaning in meanings])
         if inner is None:
             return (slots, block, None)
         if isinstance(inner[0], str):
             return (slots, block, self.frame_at(inner))
-        end = self.codes[around.name][3][block][2]
+        end = self.code_table[around.name][3][block][2]
         return (slots, block, tuple([self.body_at(node, end, number, around) for number, node in enumerate(inner)]))
 
     def body_at(self, node, end, number, around):
@@ -123,7 +123,7 @@ class Standpoint:
         if node[0] != "ended":
             return self.branch_at(node, around)
         around = around.with_node((), (), node[1])
-        slots = [None] * self.codes[around.name][2]
+        slots = [None] * self.code_table[around.name][2]
         for slot in end[3 + number]:
-            slots[slot] = self.value_at(taken_meaning(self.maps[around.name], end, slot), around)
+            slots[slot] = self.value_at(taken_meaning(self.map_table[around.name], end, slot), around)
         return ("ended", tuple(slots), node[2])

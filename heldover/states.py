@@ -1,5 +1,6 @@
 """The parts of a machine: living tasks, and what holds of them."""
 
+from heldover.errors import UnknownName
 from heldover.runs import Run, is_start
 from heldover.stories import entries
 from heldover.tasks import Task
@@ -53,8 +54,12 @@ def settled(task):
 
 
 def has_alike_answer(old, new, door):
-    """Whether answers at a door are of alike kinds in two versions."""
-    return old.kinds().alike(old.door(door)[1], new.door(door)[1], kinds=new.kinds())
+    """Whether two versions have a door, with answers of alike kinds."""
+    try:
+        kind, other = old.door(door)[1], new.door(door)[1]
+    except UnknownName:
+        return False
+    return old.kinds().alike(kind, other, kinds=new.kinds())
 
 
 def moved(task, version, number):

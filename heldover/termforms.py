@@ -147,3 +147,12 @@ def value_in(term, values, task):
     if any([operand is None for operand in operands]):
         return None
     return operated(head_of(term), operands)
+
+
+def recipe_values(recipes, slots):
+    """A dict from the variables that have recipes to their values, or None."""
+    values = {(SLOT, slot): value for slot, value in enumerate(slots) if value is not None}
+    found = {}
+    for variable, recipe in recipes.items():
+        found[variable] = None if recipe is None else value_in(recipe, values, "")
+    return found

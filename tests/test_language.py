@@ -282,7 +282,14 @@ class LanguageTest(unittest.TestCase):
                     self.check(not node.finalbody and not node.orelse, path, node, "L19")
                     for handler in node.handlers:
                         caught = handler.type.elts if isinstance(handler.type, ast.Tuple) else [handler.type]
-                        self.check(handler.name is None and {one.id for one in caught} <= own, path, node, "L19")
+                        self.check({one.id for one in caught} <= own, path, node, "L19")
+                        self.check(self.reads_attributes(handler), path, node, "L19")
+
+    def reads_attributes(self, handler):
+        """Of an error that is named only its own attributes are read."""
+        named = [node for node in ast.walk(handler) if isinstance(node, ast.Name) and node.id == handler.name]
+        above = parents(handler)
+        return all(isinstance(above[node], ast.Attribute) and above[node].attr != "args" for node in named)
 
     def test_l20_is(self):
         for path, tree in self.each():
@@ -379,7 +386,7 @@ class LanguageTest(unittest.TestCase):
                     if node.attr not in methods:
                         self.check(not above[node].keywords, path, node, "L25")
                 else:
-                    properties = {"state", "end_moment", "current", "now"}
+                    properties = {"state", "end_moment", "current", "now", "flushed"}
                     is_key = isinstance(above[node], ast.keyword) and above[node].arg == "key"
                     self.check(is_key or node.attr not in methods - properties, path, node, f"L25 {node.attr}")
 
