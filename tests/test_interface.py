@@ -29,6 +29,31 @@ FUNCTIONS = {
     "passes": {"is_pass": "value", "apply_pass": "one version codes maps function"},
     "pipelines": {"optimized": "version pipeline"},
     "tasks": {"child_name": "name index"},
+    "records": {
+        "record_text": "record", "read_record": "text", "checksum": "number text", "line_text": "number record", "good_records": "text",
+        "good_prefix": "text",
+    },
+    "recovery": {
+        "recover": "versions text", "short_text": "machine checkpoints=()", "handed_out": "machine versions text",
+        "last_checkpoint": "versions text name *key *codes *maps",
+    },
+    "fits": {"misfit": "old new task"},
+    "talk": {"rest": "version function label", "may_still": "version task", "newcomers": "version"},
+    "moves": {
+        "greatest": "population unread new names", "can_move": "population unread new names", "is_reason": "population unread new names name reason",
+        "replace": "machine version names=None", "keepers": "population function label", "without_mark": "version function label",
+    },
+    "decision": {"settled": "version task", "values_of": "version kind", "decide": "old new function args=()"},
+    "flows": {"needed_slots": "code block *entered=False", "flow": "code block slot", "is_flow": "code value", "least_frame": "codes frame"},
+    "worlds": {
+        "shows": "side story", "parting": "one other story", "first_parting": "one other choices *story=None *most=500",
+        "next_value": "version kind value", "record_worlds": "versions text line", "is_record_worlds": "versions text line value",
+        "left_worlds": "population unread new names name",
+    },
+    "debugger": {
+        "history": "run", "shown": "version codes maps epoch frame", "what_if": "run index answer", "influences": "run index variable choices",
+    },
+    "builds": {"unit_key": "version function inlined=()"},
 }
 CLASSES = {
     "values.Kinds": {
@@ -63,13 +88,21 @@ CLASSES = {
         "answer": "name index value", "rest": "most=100", "move": "names number", "perform": "operation version=None",
         "population": "", "unread": "", "records": "", "clone": "", "__eq__": None, "__len__": None, "__contains__": None,
     },
+    "log.Disk": {
+        "__init__": "text=''", "write": "text", "flush": "", "replace": "text", "text": "", "crash": "kept=0", "__eq__": None, "__len__": None,
+    },
+    "log.Keeper": {
+        "__init__": "version", "machine": "", "disk": "", "perform": "operation version=None", "flush": "", "handed_out": "",
+        "checkpoint": "name key frame", "shorten": "*key=None *codes=None *maps=None", "crash": "kept=0",
+    },
+    "builds.Build": {"__init__": "version pipeline", "codes": "", "maps": "", "rebuilt": "version", "__eq__": None},
 }
 CLASS_METHODS = {
     "versions.Version.read": "text", "execution.Execution.from_frame": "version codes name epoch frame story",
     "pipelines.Pipeline.standard": "labels", "machine.Machine.of_records": "versions records",
-    "machine.Machine.of_state": "versions current now tasks unread",
+    "machine.Machine.of_state": "versions current now tasks unread", "log.Keeper.recovered": "versions disk",
 }
-PROPERTIES = {"runs.Run": ("state", "end_moment"), "machine.Machine": ("current", "now")}
+PROPERTIES = {"runs.Run": ("state", "end_moment"), "machine.Machine": ("current", "now"), "log.Disk": ("flushed",)}
 
 
 def described(function, skipped=0):
