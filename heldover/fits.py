@@ -21,6 +21,7 @@ def misfit_at(run, story, index):
 def misfit(old, new, task):
     """None if a task of an old version fits a new one, otherwise why it does not."""
     name, epoch, start, story = task
+    # The task must be one of the old version: this run raises the errors of those that are not.
     Run(old, name, epoch, start, story)
     if not is_start(new, start):
         return ("start",)

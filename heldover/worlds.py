@@ -52,10 +52,11 @@ def kind_under(version, name):
         return version.key(name) if has_key(version, name) else None
 
 
-def are_choices_for(version, name, values):
-    """Whether a version has a door or a key with this name, and these are values of its kind."""
-    kind = kind_under(version, name)
-    return kind is not None and all([version.kinds().is_value(kind, value) for value in values])
+def are_choices_under(versions, name, values):
+    """Whether a version has a door or a key with this name, and each that has one has these values for it."""
+    kinds = [(version.kinds(), kind_under(version, name)) for version in versions]
+    kinds = [(table, kind) for table, kind in kinds if kind is not None]
+    return bool(kinds) and all([table.is_value(kind, value) for table, kind in kinds for value in values])
 
 
 def check_choices(versions, choices):
@@ -64,9 +65,7 @@ def check_choices(versions, choices):
         raise InvalidChoices(None)
     for name in sorted(choices):
         values = choices[name]
-        if not isinstance(values, (list, tuple)):
-            raise InvalidChoices(name)
-        if not any([are_choices_for(version, name, values) for version in versions]):
+        if not isinstance(values, (list, tuple)) or not are_choices_under(versions, name, values):
             raise InvalidChoices(name)
 
 

@@ -358,7 +358,9 @@ class LeastFrameTest(unittest.TestCase):
             return (frame[0], self.filled(frame[1], least[1], chance))
         if frame[0] == "ended":
             return frame
-        slots = tuple(held if held is not None else chance.choice((None, 0, 5, True, "x", ("Red",), ("Foo", 1))) for held in least[0])
+        # A slot that is needed may hold nothing in the whole frame, too.
+        data = (None, 0, 5, True, "x", ("Red",), ("Foo", 1))
+        slots = tuple(chance.choice(data) if held is None and was is not None else held for held, was in zip(least[0], frame[0]))
         inner = frame[2]
         if inner is None:
             return (slots, frame[1], None)

@@ -22,7 +22,7 @@ from heldover.worlds import (
 from tests.anything import ODD
 from tests.lives import random_life, random_operation
 from tests.programs import random_start, random_version
-from tests.samples import function, version_of, version_with
+from tests.samples import COLOR, DOORS, function, module, version_of, version_with
 from tests.talkers import line_of_talkers, random_population
 from tests.test_execution import DOUBLE, START, code_of, slot
 from tests.test_machine import SHOP, TALK, A, M, R, S, shop
@@ -285,17 +285,21 @@ class FirstPartingTest(unittest.TestCase):
             first_parting(one, other, choices, story=3, most=-1)
         return caught.exception.name
 
-    def test_choices_of_one_of_two_versions(self):
-        """A door or a key of one of them, and values of its kind in one of them."""
-        ask = ("ask", "a", "x", "price", (1,))
-        old = ("run", version_with(ask), "ann", 0, ("run", (1,), 0))
-        new = ("run", Version([("shop", (), (), (("price", ("int",), "bool"), ("extra", (), "int")), (), (("run", (("n", "int"),), (("x", "bool"),), "int", (ask,)),))]), "ann", 0, ("run", (1,), 0))
-        found = first_parting(old, new, {"price": [7], "paid": [True], "extra": [3]})
-        self.assertEqual(found, ({A: (("ask", "price", (1,)), 7, 0)}, (A, None, ("different", "answer", ("ask", "price", (1,))))))
-        self.assertEqual(first_parting(old, new, {"price": [True]})[1], (A, ("different", "answer", ("ask", "price", (1,))), None))
-        self.assertEqual(self.invalid(old, new, {"price": ["x"]}), "price")
-        self.assertEqual(self.invalid(old, new, {"price": [7, True]}), "price")
-        self.assertEqual(self.invalid(old, new, {"extra": [True]}), "extra")
+    def test_choices_of_two_versions(self):
+        """A door or a key of one of them at least, with values of the kind in each that has it."""
+        ask = ("ask", "a", "c", "pick", ())
+        start = ("run", (1,), 0)
+        old = ("run", version_with(ask, ("return", 1)), "ann", 0, start)
+        more = ("color", (*COLOR[1], ("Blue", ())))
+        new = ("run", Version([module(function("run", ask, ("return", 2)), kinds=(more,), doors=(*DOORS, ("extra", (), "int")), keys=(("paid", "int"),))]), "ann", 0, start)
+        red = {A: (("ask", "pick", ()), ("Red",), 0)}
+        found = first_parting(old, new, {"pick": [("Red",)], "extra": [3], "num": [4], "paid": []})
+        self.assertEqual(found, (red, (None, ("result", 1), ("result", 2))))
+        for one, other in ((old, new), (new, old)):
+            self.assertEqual(self.invalid(one, other, {"pick": [("Red",), ("Blue",)], "paid": [1]}), "paid")
+            self.assertEqual(self.invalid(one, other, {"pick": [("Red",), ("Blue",)], "paid": []}), "pick")
+            self.assertEqual(self.invalid(one, other, {"paid": [True]}), "paid")
+            self.assertEqual(self.invalid(one, other, {"extra": [True]}), "extra")
 
 
 class NextValueTest(unittest.TestCase):
