@@ -1,7 +1,7 @@
 """Which slots are needed, and by which flows."""
 
-from heldover.codes import is_below, is_code, is_codes
-from heldover.errors import InvalidCode, InvalidCodes, InvalidFrame, NoPoint, NoSlot
+from heldover.codes import is_below, is_code
+from heldover.errors import InvalidCode, InvalidFrame, NoPoint, NoSlot
 from heldover.flowing import Flowing
 from heldover.frames import is_frame
 from heldover.living import numbers_of
@@ -97,8 +97,6 @@ class Lessening:
 
 def least_frame(codes, frame):
     """The least frame: nothing in the slots that are not needed."""
-    if not is_codes(codes):
-        raise InvalidCodes(None)
     if not is_frame(codes, frame):
         raise InvalidFrame(frame)
     return Lessening(codes).lessened_frame(frame)

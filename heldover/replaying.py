@@ -14,12 +14,10 @@ SHORT_WORDS = ("gone", "task", "lies")
 
 
 def living_task(versions, record):
-    """The task of which a "task" record tells, None if there can be no such living task."""
+    """The task of which a "task" record with a task string tells, None if there can be no such living task."""
     _, name, number, epoch, start, told = record
     story = {index: (question, answer, moment) for index, question, answer, moment in told}
-    if number >= len(versions) or not is_task_string(name):
-        return None
-    if not is_start(versions[number], start) or not is_story(epoch, story):
+    if number >= len(versions) or not is_start(versions[number], start) or not is_story(epoch, story):
         return None
     run = Run(versions[number], name, epoch, start, story)
     end = run.end()

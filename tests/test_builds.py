@@ -60,6 +60,13 @@ class KeyTest(unittest.TestCase):
         version = shop(fun("run", ("ask", "a", "x", "price", (1,)), ("ask", "b", "ok", "flag", ()), ("ask", "c", "x", "price", (2,)), ("send", "d", "t", "paid", "ok"),
                            ("receive", "e", "x", "num"), ("receive", "f", "ok", "paid")))
         self.assertEqual(unit_key(version, "run")[2:4], ((("flag", (), "bool"), ("price", ("int",), "int")), (("num", "int"), ("paid", "bool"))))
+        names = ("zoo", "eel", "ant", "cow", "bee", "dog")
+        version = shop(fun("run", *[("ask", name, "x", name, ()) for name in names]), doors=tuple((name, (), "int") for name in names))
+        self.assertEqual(unit_key(version, "run")[2], tuple((name, (), "int") for name in sorted(names)))
+        for send in (True, False):
+            found = [("send", name, "t", name, "x") if send else ("receive", name, "x", name) for name in names]
+            version = shop(fun("run", *found), keys=tuple((name, "int") for name in names))
+            self.assertEqual(unit_key(version, "run")[2:4], ((), tuple((name, "int") for name in sorted(names))))
 
     def test_kinds(self):
         for wanted, one in (
@@ -72,6 +79,9 @@ class KeyTest(unittest.TestCase):
             if one[4] and one[4][0][0] == "ask":
                 one = (one[0], one[1], (("x", "other"), *one[2][1:]), *one[3:])
             self.assertEqual(unit_key(shop(one, doors=doors), "run")[4], wanted, one)
+        # By one of its tags alone.
+        for tag in (("tag", "Red"), ("tag", "Mix", 1, "t")):
+            self.assertEqual(unit_key(shop(fun("run", ("if", ("same", tag, tag), (), ()))), "run")[4], (COLOR,))
         # By fields of doors, by signatures, and by keys.
         version = shop(fun("run", ("ask", "a", "x", "give", (("tag", "Low"),))), doors=(("give", ("high",), "int"),))
         self.assertEqual(unit_key(version, "run")[4], (COLOR, HIGH, PAIR))
@@ -79,6 +89,9 @@ class KeyTest(unittest.TestCase):
         self.assertEqual(unit_key(version, "run")[4], (OTHER,))
         version = shop(fun("deep", result="other", inner=()), fun("run", ("call", "a", "o", "deep", ()), inner=(("o", "other"),)))
         self.assertEqual(unit_key(version, "run")[4], (OTHER,))
+        for leading in (("start", "k", "t", "deep", ()), ("become", "deep", ())):
+            version = shop(fun("deep", result="other", inner=()), fun("run", SLEEP, leading))
+            self.assertEqual(unit_key(version, "run")[4], (OTHER,))
         version = shop(fun("run", ("receive", "r", "p", "pay"), inner=(("p", "pair"),)), keys=(("pay", "pair"),))
         self.assertEqual(unit_key(version, "run")[4], (COLOR, PAIR))
 
@@ -223,6 +236,16 @@ class BuildTest(unittest.TestCase):
         self.assertFalse(self.build == Build(version_of(self.deep, self.run), STANDARD))
         for odd in (None, self.version, STANDARD, 1, ()):
             self.assertFalse(self.build == odd)
+        # The codes and maps are the same, but not the pipeline.
+        one, other = Build(self.version, Pipeline()), Build(self.version, Pipeline("hoist"))
+        self.assertEqual((one.codes(), one.maps()), (other.codes(), other.maps()))
+        self.assertFalse(one == other)
+        # The version, the pipeline and the codes are the same, but not the maps.
+        one, other = version_of(function("run", ("set", "x", 0), ("sleep", "s", "n"), ("return", "x"))), version_of(function("run", ("sleep", "s", "n"), ("return", "x")))
+        kept, anew = Build(one, Pipeline("copies", "dead")).rebuilt(other)[0], Build(other, Pipeline("copies", "dead"))
+        self.assertEqual((kept.codes(), kept.version == anew.version), (anew.codes(), True))
+        self.assertNotEqual(kept.maps(), anew.maps())
+        self.assertFalse(kept == anew)
         # The version and the pipeline are the same, but not the code.
         deep = function("deep", ("ask", "a", "x", "price", ("n",)), ("return", ("add", 1, "x")))
         changed = version_of(deep, self.run, self.calm)

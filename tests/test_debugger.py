@@ -179,6 +179,21 @@ class ShownTest(unittest.TestCase):
     def test_codes_that_do_not_go_with_the_version(self):
         self.assertEqual(shown(version_with(), {"buy": DOUBLE}, {"buy": {0: ((None, None), {}), 1: ((None, None), {})}}, 0, ("buy", ((3, 6), 1, None))), {})
 
+    def test_slots_in_places(self):
+        """Where a slot of a place holds no number of a part, the branch waits at no index."""
+        version = version_with(("loop", "k", 3, (("sleep", "s", "n"),)))
+        codes, maps = compiled_all(version)
+        slots, block, inner = Execution(version, codes, "ann", 0, ("run", (3,), 0), {}).frame()[1]
+        place = codes["run"][3][block][0]
+        held = [number[1] for _, number in place if isinstance(number, tuple)]
+        self.assertEqual(len(held), 1)
+        for number in (0, 2, 9):
+            changed = tuple(number if slot == held[0] else value for slot, value in enumerate(slots))
+            self.assertEqual(list(shown(version, codes, maps, 4, ("run", (changed, block, inner)))), [(4, ("k", number), ("s", 0))])
+        for odd in (None, -1, 10, True, "x", ("Red",)):
+            changed = tuple(odd if slot == held[0] else value for slot, value in enumerate(slots))
+            self.assertEqual(shown(version, codes, maps, 4, ("run", (changed, block, inner))), {})
+
     def test_errors(self):
         codes, maps = {"buy": DOUBLE}, {"buy": {0: ((None, None), {}), 1: ((None, None), {})}}
         for odd in ODD:

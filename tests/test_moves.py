@@ -361,7 +361,17 @@ class IsReasonTest(unittest.TestCase):
         self.assertFalse(is_reason(population, [], new, ["ann"], "ann", ("misfit", ("question", (0, ("s", 0)), ("sleep", True), ("sleep", 2)))))
         self.assertFalse(is_reason(population, [], new, ["ann"], "ann", ("misfit", ("question", (False, ("s", 0)), ("sleep", 1), ("sleep", 2)))))
 
+    def test_keys_that_only_one_version_has(self):
+        old = version_with_keys((*INT, ("kz", "int")), talker("fa", "+a"), talker("fb", "-a"))
+        new = version_with_keys((*BOOL, ("ky", "bool")), talker("fa", "+a", kind="bool"))
+        population = {"ann": placed(old, "ann", "fa"), "bob": placed(old, "bob", "fb")}
+        for key, wanted in (("ka", True), ("kb", False), ("kz", False), ("ky", False), ("nope", False), ("", False)):
+            self.assertEqual(is_reason(population, [], new, ["ann"], "ann", ("chain", ((key, "bob"),))), wanted, key)
+
     def test_any_value(self):
+        for word in ("nope", "held", "misfit", ""):
+            self.assertFalse(self.true("ann", (word, (("ka", "bob"), ("kb", "eve")))))
+            self.assertFalse(self.true("", (word, (("kb", "eve"),))))
         for odd in ODD:
             for name in ("ann", "eve", ""):
                 for value in (odd, ("chain", odd), ("misfit", odd), ("held", odd), (odd, odd), ("chain", (odd,)), ("chain", ((odd, odd),)), ("chain", (("ka", odd),))):
@@ -506,6 +516,13 @@ class MarksTest(unittest.TestCase):
         self.assertTrue(without_mark(found, "run", "k") == version_with(self.sleep("p"), self.sleep("a"), self.sleep("n"), self.sleep("q")))
         inner = without_mark(version, "run", "k")
         self.assertTrue(inner == version_with(self.sleep("p"), ("since", "m", (self.sleep("a"), self.sleep("n")), (self.sleep("b"),)), self.sleep("q")))
+
+    def test_variables_errors_and_tags_with_the_name_of_the_mark(self):
+        arm = (("set", "x", 1), ("try", "t", (("raise", "x"),), (("x", (("set", "x", "y"),)),)), ("return", "x"))
+        version = version_with(("set", "x", "n"), ("since", "x", arm, ()))
+        self.assertTrue(without_mark(version, "run", "x") == version_with(("set", "x", "n"), *arm))
+        version = version_with(("since", "x", (("set", "x", 2),), (("set", "x", 3),)), ("set", "x", ("add", "x", 1)), ("return", "x"))
+        self.assertTrue(without_mark(version, "run", "x") == version_with(("set", "x", 2), ("set", "x", ("add", "x", 1)), ("return", "x")))
 
     def test_in_all_bodies(self):
         mark = ("since", "m", (self.sleep("a"), self.sleep("z")), (self.sleep("b"),))

@@ -105,10 +105,10 @@ class TextTest(RecordTest):
             ("answered", "ann", INDEX, ("sleep", 1), False, 7), ("answered", "ann", INDEX, ASK, 1, None),
             ("became", "ann", "buy", (), -1), ("moved", ["ann"], 0), ("moved", (1,), 0), ("moved", "ann", 0),
             ("gone", "ann", ("result",)), ("gone", "ann", ("result", None)), ("gone", "ann", ("error", "Dear")), ("gone", "ann", ("become", "buy", ())),
-            ("gone", "ann", ["result", 1]), ("gone", "ann", ("error", 1)), ("gone", 1, ("result", 1)),
+            ("gone", "ann", ["result", 1]), ("gone", "ann", ("error", 1)), ("gone", "ann", ("raise", "dear")), ("gone", "ann", (1, "dear")), ("gone", 1, ("result", 1)),
             ("task", "ann", 0, 10 ** 9 + 1, ("buy", (), 0), ()), ("task", "ann", 0, True, ("buy", (), 0), ()), ("task", "ann", 0, -1, ("buy", (), 0), ()),
             ("task", "ann", 0, 0, ("buy", ()), ()), ("task", "ann", 0, 0, ("Buy", (), 0), ()), ("task", "ann", 0, 0, ("buy", [], 0), ()),
-            ("task", "ann", 0, 0, ("buy", (), -1), ()), ("task", "ann", 0, 0, ["buy", (), 0], ()), ("task", "ann", 0, 0, ("buy", (), 0), []),
+            ("task", "ann", 0, 0, ("buy", (1, 2, 3, 4, 5, 6), 0), ()), ("task", "ann", 0, 0, ("buy", (None,), 0), ()), ("task", "ann", 0, 0, ("buy", (), -1), ()), ("task", "ann", 0, 0, ["buy", (), 0], ()), ("task", "ann", 0, 0, ("buy", (), 0), []),
             ("lies", "ann", "paid", ("bob", (0,)), 1), ("lies", "ann", "paid", "bob", 1), ("lies", "ann", "paid", ("bob", INDEX), None),
             ("lies", 1, "paid", ("bob", INDEX), 1), ("lies", "ann", 1, ("bob", INDEX), 1), ("frame", "ann", "k", None), ("frame", "ann", "k", [1]),
             ("frame", "ann", "k", ([1],)), ("frame", "ann", 1, ()), ("at", 0, 1, -1), ("at", True, 1, 0), ("at", 0, True, 0), ("version", True),
@@ -123,6 +123,8 @@ class TextTest(RecordTest):
         one, other = TOLD
         for told in ((other, one), (one, one), (one, other, other), (one, (INDEX, ("mark",), True, 1))):
             self.refused(record_text, ("task", "ann", 0, 0, ("buy", (), 0), told))
+        for index in ((0,), (0, ("a", 10)), (0, ["a", 0]), (True, ("a", 0)), "0 a.0", None):
+            self.refused(record_text, ("task", "ann", 0, 0, ("buy", (), 0), ((index, *one[1:]),)))
         for told in ((one[:3],), ((*one, 1),), (list(one),), ((INDEX, ASK, None, None),), ((INDEX, ASK, 1, None),), ((INDEX, ("mark",), 1, 0),)):
             self.refused(record_text, ("task", "ann", 0, 0, ("buy", (), 0), told))
 

@@ -168,6 +168,13 @@ class ShortFileTest(RecoveryTest):
         self.assertEqual((machine.names(), machine.names(living=False), machine.task("Ann Smith!").epoch), (["Ann Smith!"], [""], 7))
         self.assertEqual(machine.unread(), [(("", M), "Ann Smith!", "?", ("Foo",))])
 
+    def test_what_is_no_task_string_is_no_name(self):
+        name = "a" * 201
+        for record in (("gone", name, ("result", 1)), ("task", name, 0, 0, ("pay", (3,), 0), ())):
+            self.assertEqual(self.line([self.at, record]), 2)
+            shorter = (record[0], name[1:], *record[2:])
+            self.assertTrue(name[1:] in recover([SHOP, SHOP], file_of(self.at, shorter)))
+
     def test_the_beginning(self):
         for at in (("at", 0, 0, 0), ("at", 0, 3, 0), ("at", 0, 2, 2), ("at", 0, 1, 1), ("at", 0, 6, 0)):
             self.assertEqual(self.line([at]), 1)

@@ -216,6 +216,40 @@ class FirstPartingTest(unittest.TestCase):
         self.assertTrue(place < 500)
         self.assertEqual(first_parting(one, other, earlier), found)
 
+    def test_the_five_hundredth_story_and_the_next_one(self):
+        for most, story in ((500, 498), (500, 499), (3, 1), (3, 2)):
+            def body(result):
+                return (("ask", "a", "x", "price", (1,)), ("if", ("same", "x", story), (("return", result),), ()))
+            one, other = self.sides(body(1), body(2))
+            choices = {"price": list(range(600))}
+            # The empty story is the first one, that with the answer 0 the second one.
+            found = first_parting(one, other, choices) if most == 500 else first_parting(one, other, choices, most=most)
+            self.assertEqual(found is None, story + 2 > most, story)
+
+    def test_the_greatest_moment_of_the_story(self):
+        body = (("both", "b", (("sleep", "s", 1), ("sleep", "u", 1)), (("sleep", "z", 1), ("ask", "a", "x", "price", (1,)))), ("return", "x"))
+        one, other = self.sides(body, (*body[:-1], ("return", 5)))
+        s, u, z, a = [(0, ("b", number), (label, 0)) for number, label in ((0, "s"), (0, "u"), (1, "z"), (1, "a"))]
+        story = {s: (("sleep", 1), True, 9), z: (("sleep", 1), True, 4), a: (("ask", "price", (1,)), None, None)}
+        found = first_parting(one, other, {"price": [6]}, story=story)[0]
+        self.assertEqual(found, {**story, a: (("ask", "price", (1,)), 6, 9), u: (("sleep", 1), True, 9)})
+
+    def test_waits_in_ascending_order(self):
+        """Also those of codes that do the greater index first."""
+        def code(result):
+            later, sooner = (("b", 0), ("z", 0)), (("b", 0), ("s", 0))
+            return code_of(((), (), ("jump", 1)), ((("b", 0),), (), ("both", 2, 4, (), (), 6, ())), (later, (), ("sleep", ("value", 1), 3)), (None, (), ("done",)),
+                           (sooner, (), ("sleep", ("value", 1), 5)), (None, (), ("done",)), ((("b", 2),), (), ("return", ("value", result))), name="buy", slots=1)
+        one, other = [("code", VERSION, {"buy": code(result)}, "ann", 0, START) for result in (1, 2)]
+        s, z = (0, ("b", 0), ("s", 0)), (0, ("b", 0), ("z", 0))
+        self.assertEqual(list(shows(one, {})[0]), [z, s])
+        self.assertEqual(first_parting(one, other, {}, most=4)[1], (None, ("result", 1), ("result", 2)))
+        stuck = ("code", VERSION, {"buy": code_of(*code(3)[3][:4], (code(3)[3][4][0], (), ("sleep", ("value", 1), 7)), *code(3)[3][5:], (None, (), ("jump", 7)), name="buy", slots=1)}, "ann", 0, START)
+        # The story with the lesser index comes first.
+        self.assertEqual(first_parting(one, stuck, {}), ({s: (("sleep", 1), True, 0)}, (None, None, ("stuck", "buy", 7))))
+        self.assertIsNone(first_parting(one, stuck, {}, most=1))
+        self.assertIsNotNone(first_parting(one, stuck, {}, most=2))
+
     def test_each_once(self):
         one, other = self.sides((("both", "b", (("sleep", "s", 1),), (("sleep", "z", 1),)), ("return", 1)), (("both", "b", (("sleep", "s", 1),), (("sleep", "z", 1),)), ("return", 2)))
         self.assertIsNone(first_parting(one, other, {}, most=3))
@@ -391,6 +425,18 @@ class RecordWorldsTest(unittest.TestCase):
         self.assertEqual(self.worlds(turn, 3, [TALK]), (None, "next", ("ready", "ann", (0,))))
         self.assertEqual(self.worlds(turn, 4, [TALK]), (None, "next", ("ready", "ann", (0,))))
         self.assertIsNone(self.worlds([turn[0], ("frame", "ann", "k", ())], 2, [TALK]))
+
+    def test_the_least_wait_that_is_shown(self):
+        body = ("both", "b", (("both", "c", (("sleep", "k", 1),), (("sleep", "l", 1),)),), (("both", "d", (("sleep", "m", 1),), (("both", "e", (("sleep", "p", 1),), (("sleep", "q", 1),)),)),))
+        version = version_with(("ask", "a", "x", "price", (1,)), body)
+        started = [("started", name, 0, "run", (1,), 0) for name in ("bob", "ann")]
+        k = (0, ("b", 0), ("c", 0), ("k", 0))
+        for name in ("ann", "bob"):
+            asked = answered(name, A, ("ask", "price", (1,)), 4)
+            self.assertEqual(self.worlds([*started, asked], 3, [version]), (answered(name, A, ("ask", "price", (1,)), 5), "shown", (name, k)))
+        again = version_of(function("run", ("ask", "a", "x", "price", (1,)), body, inner=(("x", "int"), ("z", "int"))))
+        records = [*started, *[answered(name, A, ("ask", "price", (1,)), 4) for name in ("ann", "bob")], ("version", 1), ("moved", ("ann", "bob"), 1)]
+        self.assertEqual(self.worlds(records, 6, [version, again]), (None, "shown", ("ann", k)))
 
     def test_sends_and_receives(self):
         records = [("started", "ann", 0, "take", (1,), 0), ("started", "bob", 0, "give", (7, "ann"), 0), answered("bob", M, ("send", "ann", "num", 7), True),
