@@ -3,31 +3,30 @@
 A node is described by a tuple (word, texts, numbers, children); children are numbers of other nodes. An integer is
 always a "sum" of products of other nodes, so that the rules of arithmetic need no search: numbers are the coefficient
 and the length of each product, one after the other, and children are the factors of all of them. A value of a
-declared kind is a "tag" node like any other tag. Everything is ordered by ranks, which depend on the description
-alone and not on the order in which nodes were made.
+declared kind is a "tag" node like any other tag. Operands that may be exchanged, and the products of a sum, stand in
+the order of nodes: by word, texts and numbers, and where these are the same by the first children that differ. So no
+two nodes share a place in it, and it does not depend on the order in which nodes were made.
 """
 
 from heldover.expressions import INTEGER_OPERATORS, operate
 from heldover.values import is_integer, is_task_string
 
-PRIME = 2 ** 61 - 1
-BASE = 1000003
 # Beyond these a product is not multiplied out: products in the result, factors in one, bits of a coefficient.
 MOST_PRODUCTS = 1000
 MOST_FACTORS = 110
 MOST_BITS = 100000
-# Nodes that are nested deeper are not looked into when a condition is used.
+# Conditions are not used in a node with more nodes within each other that they may change: only large terms have such.
 DEEPEST_LOOK = 100
 TRUE = 0
 FALSE = 1
 
 
-def text_rank(text):
-    """A number for a string."""
-    rank = len(text)
-    for sign in text:
-        rank = (rank * 131 + ord(sign)) % PRIME
-    return rank
+def first_difference(ours, theirs):
+    """The first two items at the same place of two tuples that are not equal."""
+    for one, other in zip(ours, theirs):
+        if one != other:
+            return one, other
+    return None
 
 
 class Nodes:
@@ -40,11 +39,9 @@ class Nodes:
         for kind, variants in self.variant_table.items():
             for tag, fields in variants:
                 self.tag_table[tag] = (kind, fields)
-        self.word_ranks = {}
         self.numbers = {}
         self.descriptions = []
         self.kind_list = []
-        self.ranks = []
         self.firm = []
         self.depths = []
         self.sums = {}
@@ -62,30 +59,41 @@ class Nodes:
         self.numbers[key] = number
         self.descriptions.append(key)
         self.kind_list.append(kind)
-        self.ranks.append(self.rank_of(word, texts, numbers, children))
-        depth = 1 + max([self.depths[child] for child in children], default=0)
-        self.depths.append(depth)
         # Only truths are changed by conditions; no integer has a truth within it.
         firm = all([self.firm[child] for child in children]) and (kind != "bool" or word in ("true", "false"))
         self.firm.append(kind == "int" or firm)
+        # What is firm has no depth, as nothing in it is looked into: integers may be nested as deep as they like.
+        depth = 1 + max([self.depths[child] for child in children], default=0)
+        self.depths.append(0 if self.firm[number] else depth)
         return number
 
-    def rank_of(self, word, texts, numbers, children):
-        """The rank of a node."""
-        rank = 0
-        for text in (word, *texts):
-            if text not in self.word_ranks:
-                self.word_ranks[text] = text_rank(text)
-            rank = (rank * BASE + self.word_ranks[text] + 1) % PRIME
-        for number in numbers:
-            rank = (rank * BASE + number + 3) % PRIME
-        for child in children:
-            rank = (rank * BASE + self.ranks[child] + 7) % PRIME
-        return rank
+    def precedes(self, one, other):
+        """Whether a node stands before another one in the order of nodes."""
+        while one != other:
+            first, second = self.descriptions[one], self.descriptions[other]
+            if first[:3] != second[:3]:
+                return first[:3] < second[:3]
+            # Every description is there only once, so some children differ.
+            one, other = first_difference(first[3], second[3])
+        return False
 
-    def rank_at(self, number):
-        """The rank of a node that was made."""
-        return self.ranks[number]
+    def arranged(self, numbers):
+        """The list of these nodes in the order of nodes."""
+        found = []
+        for number in numbers:
+            low, high = 0, len(found)
+            while low < high:
+                middle = (low + high) // 2
+                if self.precedes(found[middle], number):
+                    low = middle + 1
+                else:
+                    high = middle
+            found.insert(low, number)
+        return found
+
+    def factors_in(self, products):
+        """The list of the factors of these products, each once, in the order of nodes."""
+        return self.arranged(list({factor: True for factors in products for factor in factors}))
 
     def word_of(self, number):
         """The word of a node."""
@@ -111,14 +119,12 @@ class Nodes:
             return number
         return self.sum_of({(number,): 1})
 
-    def order(self, factors):
-        """What products are ordered by."""
-        return [self.ranks[factor] for factor in factors]
-
     def sum_of(self, table):
         """The sum of a dict from tuples of factors, in order, to coefficients."""
-        rows = sorted([(self.order(factors), factors, count) for factors, count in table.items() if count != 0])
-        products = [(factors, count) for _, factors, count in rows]
+        left = {factors: count for factors, count in table.items() if count != 0}
+        places = {factor: place for place, factor in enumerate(self.factors_in(left))}
+        rows = sorted([([places[factor] for factor in factors], factors) for factors in left])
+        products = [(factors, left[factors]) for _, factors in rows]
         numbers, children = [], []
         for factors, count in products:
             numbers.extend([count, len(factors)])
@@ -177,14 +183,14 @@ class Nodes:
         ours, theirs = self.sums[one], self.sums[other]
         if self.is_too_large(ours, theirs):
             self.opaque = True
-            pair = sorted([one, other], key=self.rank_at)
-            return self.as_sum(self.node("product", (), (), tuple(pair), "int"))
+            return self.as_sum(self.node("product", (), (), tuple(self.arranged([one, other])), "int"))
+        order = self.factors_in([factors for factors, _ in (*ours, *theirs)])
+        places = {factor: place for place, factor in enumerate(order)}
         table = {}
         for factors, count in ours:
             for others, times in theirs:
-                both = (*factors, *others)
-                if factors and others:
-                    both = tuple(sorted(both, key=self.rank_at))
+                found = sorted([places[factor] for factor in (*factors, *others)])
+                both = tuple([order[place] for place in found])
                 table[both] = table.get(both, 0) + count * times
         return self.sum_of(table)
 
@@ -261,8 +267,7 @@ class Nodes:
             return TRUE
         if self.is_value(one) and self.is_value(other):
             return FALSE
-        pair = sorted([one, other], key=self.rank_at)
-        return self.node("same", (), (), tuple(pair), "bool")
+        return self.node("same", (), (), tuple(self.arranged([one, other])), "bool")
 
     def negated(self, number):
         """The negation."""
@@ -283,8 +288,7 @@ class Nodes:
             return one
         if one in (TRUE, FALSE) or other in (TRUE, FALSE):
             return FALSE if word == "and" else TRUE
-        pair = sorted([one, other], key=self.rank_at)
-        return self.node(word, (), (), tuple(pair), "bool")
+        return self.node(word, (), (), tuple(self.arranged([one, other])), "bool")
 
     def tagged(self, tag, children):
         """The node of a tag with fields, None if they are not of its kinds."""

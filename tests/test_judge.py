@@ -59,6 +59,39 @@ class AcceptTest(unittest.TestCase):
         self.assertEqual(judge(version, "run", code, {0: rows[0], 1: ((None, None), {})}), ("undefined", 1))
 
 
+def exchanged(code):
+    """A code whose steps have the operands that may be exchanged the other way round."""
+    blocks = []
+    for place, steps, end in code[3]:
+        found = [(given, (made[0], made[2], made[1]) if made[0] in ("and", "or", "same", "mul") else made) for given, made in steps]
+        blocks.append((place, tuple(found), end))
+    return (*code[:3], tuple(blocks))
+
+
+class ExchangeTest(unittest.TestCase):
+    """Operands that are exchanged make no fault, whatever they are made of."""
+
+    def check(self, *body):
+        version = version_with(("ask", "a", "ok", "flag", ()), ("ask", "b", "no", "flag", ()), ("ask", "c", "x", "price", ("n",)), *body)
+        code, rows = compiled(version, "run")
+        other = exchanged(code)
+        self.assertNotEqual(other, code)
+        self.assertIsNone(judge(version, "run", code, rows))
+        self.assertIsNone(judge(version, "run", other, rows))
+
+    def test_truths(self):
+        for one, other in (("ok", "no"), ("no", "ok")):
+            p, q = ("and", one, ("not", other)), ("not", ("and", one, other))
+            for word in ("and", "or", "same"):
+                self.check(("send", "m", ("self",), "paid", (word, p, q)))
+                self.check(("if", (word, p, q), (("return", 1),), (("sleep", "s", "x"),)))
+
+    def test_integers(self):
+        d, m = ("div", "n", ("mod", "x", "y")), ("mod", "n", ("div", "x", "y"))
+        self.check(("return", ("mul", d, m)))
+        self.check(("ask", "d", "y", "price", ("n",)), ("sleep", "s", ("mul", d, m)), ("return", ("add", "x", ("mul", m, d))))
+
+
 class RejectTest(unittest.TestCase):
     """Single faults, by hand."""
 

@@ -2,7 +2,7 @@
 
 import time
 import unittest
-from itertools import product
+from itertools import combinations, product
 from random import Random
 
 from heldover.errors import InvalidTerm
@@ -297,6 +297,124 @@ class RewritingTest(unittest.TestCase):
         given = self.terms.given((("same", B, C), True)).given(condition=(C, True))
         self.assertTrue(given.exclude((("same", B, TRUE), False), (("same", B, TRUE), True)))
         self.assertFalse(self.terms.same_terms(C, TRUE))
+
+
+def grown(leaves, words, most):
+    """All terms of these leaves with at most so many of these operations; words are tuples (word, number of operands)."""
+    rows = [list(leaves)]
+    for count in range(1, most + 1):
+        row = []
+        for word, operands in words:
+            if operands == 1:
+                row.extend((word, inner) for inner in rows[count - 1])
+            else:
+                row.extend((word, *pair) for left in range(count) for pair in product(rows[left], rows[count - 1 - left]))
+        rows.append(row)
+    return [term for row in rows for term in row]
+
+
+class ExchangeTest(unittest.TestCase):
+    """Operands are exchanged, whatever they are made of and in whatever sequence terms are asked about."""
+
+    TRUTHS = grown((B, C), (("and", 2), ("or", 2), ("same", 2), ("not", 1)), 2)
+    QUOTIENTS = grown((X, Y, R), (("div", 2), ("mod", 2)), 2)
+    COMPARISONS = [("less", *pair) for pair in product(grown((X, Y), (("div", 2), ("mod", 2)), 1), repeat=2)]
+
+    def check(self, words, terms):
+        known = Terms(VERSION, KINDS)
+        for one, other in combinations(terms, 2):
+            for word in words:
+                self.assertTrue(known.same_terms((word, one, other), (word, other, one)), (word, one, other))
+
+    def test_truths(self):
+        self.check(("and", "or", "same"), self.TRUTHS)
+        self.check(("and", "same"), self.COMPARISONS)
+
+    def test_integers(self):
+        self.check(("mul",), self.QUOTIENTS)
+
+    def test_normal_forms_do_not_rest_on_what_was_asked_before(self):
+        for words, terms in ((("and", "or", "same"), self.TRUTHS[:90]), (("mul", "add"), self.QUOTIENTS[:90])):
+            asked = [(word, one, other) for word in words for one, other in combinations(terms, 2)]
+            first, second = Terms(VERSION, KINDS), Terms(VERSION, dict(reversed(list(KINDS.items()))))
+            forms = [first.normal(term) for term in asked]
+            others = [second.normal((word, other, one)) for word, one, other in reversed(asked)]
+            self.assertTrue(forms == others[::-1])
+            for at in range(0, len(asked), 50):
+                self.assertEqual(Terms(VERSION, KINDS).normal(asked[at]), forms[at], asked[at])
+
+    def test_what_is_not_equal(self):
+        terms = Terms(VERSION, KINDS)
+        p, q = ("and", B, ("not", C)), ("not", ("and", B, C))
+        d, m = ("div", X, ("mod", Y, R)), ("mod", X, ("div", Y, R))
+        for one, other in ((p, q), (("or", p, q), ("and", q, p)), (("or", p, q), ("or", p, p)), (d, m),
+                           (("mul", d, m), ("mul", d, d)), (("sub", d, m), ("sub", m, d)), (("less", d, m), ("less", m, d)),
+                           (("tag", "Two", COL, p), ("tag", "Two", COL, q)), (("div", d, m), ("div", m, d))):
+            self.assertFalse(terms.same_terms(one, other), (one, other))
+            self.assertNotEqual(terms.normal(one), terms.normal(other))
+
+    def test_within_other_terms(self):
+        terms = Terms(VERSION, KINDS, [(("is", "Mix", COL), True)])
+        d, m = ("div", X, ("mod", Y, R)), ("mod", X, ("div", Y, R))
+        p, q = ("and", B, ("not", C)), ("not", ("and", B, C))
+        for one, other in (
+            (("tag", "Two", COL, ("or", p, q)), ("tag", "Two", COL, ("or", q, p))),
+            (("same", PR, ("tag", "Two", COL, p)), ("same", ("tag", "Two", COL, p), PR)),
+            (("div", ("mul", d, m), ("add", d, m)), ("div", ("mul", m, d), ("add", m, d))),
+            (("mul", ("add", d, m), ("sub", d, m)), ("sub", ("mul", d, d), ("mul", m, m))),
+            (("less", ("mul", ("part", 0, COL), d), m), ("less", value(0), ("sub", m, ("mul", d, ("part", 0, COL))))),
+            (("same", ("mul", d, m), Y), ("same", ("sub", Y, ("mul", m, d)), value(0))),
+        ):
+            self.assertTrue(terms.same_terms(one, other), (one, other))
+            self.assertEqual(terms.normal(one), Terms(VERSION, KINDS, [(("is", "Mix", COL), True)]).normal(other))
+
+    def test_conditions(self):
+        p, q = ("and", B, ("not", C)), ("not", ("and", B, C))
+        terms = Terms(VERSION, KINDS, [(("or", p, q), True)])
+        self.assertTrue(terms.same_terms(("or", q, p), TRUE))
+        self.assertTrue(terms.exclude((("same", p, q), True), (("same", q, p), False)))
+        self.assertFalse(terms.exclude((("same", p, q), True), (("same", q, p), True)))
+
+    def test_operands_that_differ_deep_within(self):
+        terms = Terms(VERSION, KINDS)
+        truths, integers = (B, C), (X, Y)
+        for _ in range(24):
+            truths = [("not", ("or", one, ("is", "Red", COL))) for one in truths]
+            integers = [("div", ("mod", one, R), value(3)) for one in integers]
+        for word, pair in (("and", truths), ("or", truths), ("same", truths), ("mul", integers)):
+            self.assertFalse(terms.same_terms(*pair))
+            self.assertTrue(terms.same_terms((word, *pair), (word, *pair[::-1])))
+
+
+class DeepConditionTest(unittest.TestCase):
+    """A condition becomes its truth however deep the term is, as long as it is not large."""
+
+    def test_behind_deep_integers(self):
+        deep = X
+        for _ in range(90):
+            deep = ("div", deep, value(2))
+        less = ("less", value(0), deep)
+        terms = Terms(VERSION, KINDS, [(B, True)])
+        self.assertTrue(terms.same_terms(("and", less, B), less))
+        self.assertTrue(terms.same_terms(("or", ("not", B), ("and", B, less)), less))
+        self.assertTrue(Terms(VERSION, KINDS, [(("and", B, less), True)]).exclude((B, True), (less, False)))
+        self.assertFalse(terms.same_terms(("and", less, C), less))
+
+    def test_in_deep_truths(self):
+        for under, truth in ((B, True), (("not", B), False)):
+            terms = Terms(VERSION, KINDS, [(under, truth)])
+            deep = ("and", C, B)
+            for _ in range(96):
+                deep = ("not", deep)
+            self.assertTrue(terms.same_terms(deep, C))
+            deep = C
+            for word in ("and", "same") * 24:
+                deep = (word, deep, B) if word == "and" else (word, B, deep)
+            other = C
+            for _ in range(24):
+                other = ("same", other, TRUE)
+            self.assertTrue(terms.same_terms(deep, other))
+            self.assertEqual(terms.normal(deep), terms.normal(other))
 
 
 class ChanceTest(unittest.TestCase):
